@@ -1,0 +1,1 @@
+"""Programs that make programs, and what their names mean."""

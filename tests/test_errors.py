@@ -1,0 +1,217 @@
+"""Point [85], and of point [2] that errors are told from left to right."""
+
+import unittest
+
+from namesapart import errors
+from tests.growing import A, ODD_VALUES, nested, read_tree
+
+PLAIN_ERRORS = """InvalidTree InvalidText InvalidWork InvalidPath InvalidName InvalidOrder InvalidProgram InvalidNumber
+    InvalidLotted InvalidLotWork InvalidManner InvalidPattern InvalidRow InvalidRows InvalidPieces NotTaken InvalidWord
+    InvalidStaged InvalidTable InvalidShelf InvalidModule InvalidPlaceOrder InvalidCode InvalidStep InvalidStore
+    InvalidDeed InvalidDeeds InvalidWords InvalidLot InvalidJourney InvalidStops CannotMake NothingToUndo
+    NothingToRedo""".split()
+TREE = read_tree(A)
+BAD = ("amount", "1")
+
+
+class Point85(unittest.TestCase):
+    def test_base(self):
+        self.assertEqual(errors.ApartError.__bases__, (ValueError,))
+
+    def test_direct_subclasses(self):
+        for name in PLAIN_ERRORS + ["Hindered", "TooMany"]:
+            self.assertEqual(getattr(errors, name).__bases__, (errors.ApartError,), name)
+
+    def test_there_are_no_others(self):
+        found = {name for name, thing in vars(errors).items() if isinstance(thing, type)}
+        self.assertEqual(found, set(PLAIN_ERRORS) | {"ApartError", "Hindered", "TooMany"})
+
+    def test_messages(self):
+        for name in PLAIN_ERRORS:
+            self.assertEqual(str(getattr(errors, name)("a message")), "a message")
+
+    def test_what_and_limit(self):
+        self.assertEqual(errors.Hindered(("lack", "u", "v")).what, ("lack", "u", "v"))
+        self.assertEqual(errors.TooMany(4).limit, 4)
+
+    def test_defined_there(self):
+        for name in PLAIN_ERRORS + ["ApartError", "Hindered", "TooMany"]:
+            self.assertEqual(getattr(errors, name).__module__, "namesapart.errors")
+
+
+class ErrorCase(unittest.TestCase):
+    """Each function is called with good arguments, one or two of which are made bad."""
+
+    def check_errors(self, function, good, raised):
+        """Each argument that can be wrong, alone and with all behind it, raises its error, also for odd values."""
+        function(*good)
+        for at, error in enumerate(raised):
+            if error is None:
+                continue
+            for value in ODD_VALUES + (nested(300), good[at] if not isinstance(good[at], tuple) else list(good[at])):
+                if self.is_good(function, good, at, value):
+                    continue
+                alone = good[:at] + (value,) + good[at + 1:]
+                with self.assertRaises(getattr(errors, error), msg=f"{function.__name__}{alone!r:.200}"):
+                    function(*alone)
+            behind = good[:at] + (BAD,) * (len(good) - at)
+            with self.assertRaises(getattr(errors, error), msg=f"{function.__name__}{behind!r:.200}"):
+                function(*behind)
+
+    def is_good(self, function, good, at, value):
+        return (function.__name__, at, repr(value)) in GOOD_VALUES or (value is good[at])
+
+
+# Odd values that are no errors at these places.
+GOOD_VALUES = {(name, at, repr(value)) for names, at, values in (
+    (("part_at", "binder_of", "mean_same", "lot_meaning"), 1, [(), (1,)]),
+    (("mean_same",), 3, [(), (1,)]),
+    (("made_by", "making_end"), 1, [(), ((), (), ())]),
+    (("made_by_lots", "lot_end"), 2, [(), ((), (), ())]),
+    (("run_of", "shown_by", "unrolled", "lost_paper", "pieces_for"), 1, [0, 1]),
+    (("is_lost_paper",), 1, [0, 1]),
+    (("piece_numbers", "taken_by", "refused_at", "is_wider"), 0, [(), (("amount", 1),)]),
+    (("is_wider", "taken_by", "refused_at", "row_taking"), 1, [(), (("amount", 1),)]),
+    (("narrowed",), 1, [(1,)]),
+) for name in names for value in values}
+
+
+class Point2(ErrorCase):
+    def test_trees(self):
+        from namesapart import trees
+        for word in ("tree_size", "tree_depth", "parts_of", "all_paths", "words_in"):
+            self.check_errors(getattr(trees, word), (TREE,), ("InvalidTree",))
+        self.check_errors(trees.part_at, (TREE, (0,)), ("InvalidTree", "InvalidPath"))
+
+    def test_texts(self):
+        from namesapart import texts
+        self.check_errors(texts.tree_text, (TREE,), ("InvalidTree",))
+        for value in ODD_VALUES + (nested(300), ["(+ 1 2)"]):
+            if not isinstance(value, str):
+                self.assertRaises(errors.InvalidText, texts.read_tree, value)
+
+    def test_meanings(self):
+        from namesapart import meanings
+        work, name = (TREE, ()), ("x", ())
+        self.check_errors(meanings.fresh_work, (TREE,), ("InvalidTree",))
+        self.check_errors(meanings.free_words, (work,), ("InvalidWork",))
+        self.check_errors(meanings.binder_of, (work, (0,), name), ("InvalidWork", "InvalidPath", "InvalidName"))
+        self.check_errors(meanings.mean_same, (work, (0,), name, (0,), name),
+                          ("InvalidWork", "InvalidPath", "InvalidName", "InvalidPath", "InvalidName"))
+
+    def test_makings(self):
+        from namesapart import makings
+        work = (TREE, ())
+        self.check_errors(makings.outermost_uses, (work,), ("InvalidWork",))
+        self.check_errors(makings.row_for, (work, (1, 1, 1)), ("InvalidWork", "InvalidPath"))
+        self.check_errors(makings.made_once, (work, (1, 1, 1)), ("InvalidWork", "InvalidPath"))
+        self.check_errors(makings.made_by, (work, ((1, 1, 1),)), ("InvalidWork", "InvalidOrder"))
+
+    def test_plain(self):
+        from namesapart import plain
+        made = (read_tree("(hold x 1 x)"), ())
+        self.check_errors(plain.is_made, (made,), ("InvalidWork",))
+        self.check_errors(plain.plain_tree, (made,), ("InvalidWork",))
+        self.check_errors(plain.with_plain_names, (made[0],), ("InvalidTree",))
+        self.check_errors(plain.are_alike, (made[0], made[0]), ("InvalidTree", "InvalidTree"))
+
+    def test_running(self):
+        from namesapart import running
+        program = read_tree("(hold x 1 x)")
+        self.check_errors(running.step_of, (program,), ("InvalidTree",))
+        self.check_errors(running.run_of, (program, 9), ("InvalidTree", "InvalidNumber"))
+        self.check_errors(running.shown_by, (TREE, 9), ("InvalidTree", "InvalidNumber"))
+        free = read_tree("(+ x 1)")
+        self.assertRaises(errors.InvalidProgram, running.step_of, free)
+        self.assertRaises(errors.InvalidProgram, running.run_of, free, -1)
+        self.assertRaises(errors.InvalidProgram, running.step_of, TREE)
+
+    def test_lots(self):
+        from namesapart import lots
+        self.check_errors(lots.lots_off, (TREE,), ("InvalidLotted",))
+        self.check_errors(lots.lot_meaning, (TREE, (0,), ("x", ())), ("InvalidLotted", "InvalidPath", "InvalidName"))
+
+    def test_lotworks(self):
+        from namesapart import lotworks
+        manner = (True, True, True)
+        work = lotworks.begun_lots(TREE, manner)
+        self.check_errors(lotworks.begun_lots, (TREE, manner), ("InvalidTree", "InvalidManner"))
+        self.check_errors(lotworks.lot_row, (work, (1, 1, 1)), ("InvalidLotWork", "InvalidPath"))
+        self.check_errors(lotworks.lot_once, (work, (1, 1, 1)), ("InvalidLotWork", "InvalidPath"))
+        self.check_errors(lotworks.made_by_lots, (TREE, manner, ()), ("InvalidTree", "InvalidManner", "InvalidOrder"))
+
+    def test_lotplain(self):
+        from namesapart import lotplain
+        manner = (True, True, True)
+        self.check_errors(lotplain.lot_end, (TREE, manner, ()), ("InvalidTree", "InvalidManner", "InvalidOrder"))
+        self.check_errors(lotplain.making_end, (TREE, ()), ("InvalidTree", "InvalidOrder"))
+        self.check_errors(lotplain.agreeing_manners, (TREE,), ("InvalidTree",))
+
+    def test_marks_where_names_must_be_bare(self):
+        from namesapart import lotplain, lotworks, plain
+        marked = read_tree("(hold x@1 1 x)")
+        inner = read_tree("(maker m (row (word:x@1) 1) 2)")
+        manner = (True, True, True)
+        for tree in (marked, inner):
+            self.assertRaises(errors.InvalidTree, lotworks.begun_lots, tree, ())
+            self.assertRaises(errors.InvalidTree, lotworks.made_by_lots, tree, manner, ())
+            self.assertRaises(errors.InvalidTree, lotplain.lot_end, tree, manner, ())
+            self.assertRaises(errors.InvalidTree, lotplain.making_end, tree, ())
+            self.assertRaises(errors.InvalidTree, lotplain.agreeing_manners, tree)
+        for tree in (marked, read_tree("(maker m (row () 1) 2)"), read_tree("(make m)")):
+            self.assertRaises(errors.InvalidTree, plain.with_plain_names, tree)
+            self.assertRaises(errors.InvalidTree, plain.are_alike, tree, ("amount", 1))
+            self.assertRaises(errors.InvalidTree, plain.are_alike, ("amount", 1), tree)
+
+    def test_widerows(self):
+        from namesapart import lostrows, widemakings, widerows
+        pattern = (("any", "a"), ("each", (("any", "b"),)))
+        row = (pattern, ("fill", "a"))
+        pieces = (("amount", 1), ("amount", 2))
+        self.check_errors(widerows.piece_numbers, (pattern,), ("InvalidPattern",))
+        self.check_errors(widerows.taken_by, (pattern, pieces), ("InvalidPattern", "InvalidPieces"))
+        self.check_errors(widerows.refused_at, (pattern, pieces), ("InvalidPattern", "InvalidPieces"))
+        self.check_errors(widemakings.filled_by, (row, pieces), ("InvalidRow", None))
+        self.check_errors(widemakings.unrolled, (row, 1), ("InvalidRow", "InvalidNumber"))
+        self.check_errors(widemakings.narrowed, ((row,), (1, 2)), ("InvalidRows", "InvalidNumber"))
+        self.check_errors(lostrows.is_wider, (pattern, pattern), ("InvalidPattern", "InvalidPattern"))
+        self.check_errors(lostrows.row_taking, ((row,), pieces), ("InvalidRows", "InvalidPieces"))
+        self.check_errors(lostrows.lost_rows, ((row,),), ("InvalidRows",))
+        self.check_errors(lostrows.pieces_for, ((row, row), 1), ("InvalidRows", "InvalidNumber"))
+        self.check_errors(lostrows.lost_paper, ((row, row), 1), ("InvalidRows", "InvalidNumber"))
+        self.check_errors(lostrows.is_lost_paper, ((row, row), 1, ()), ("InvalidRows", "InvalidNumber", None))
+
+    def test_pieces_that_are_no_pieces(self):
+        from namesapart import widemakings
+        row = ((("any", "a"),), ("fill", "a"))
+        for value in (1, [("amount", 1)], (1,), (("fill", "a"),), (("amount", 1),) * 7):
+            self.assertRaises(errors.InvalidPieces, widemakings.filled_by, row, value)
+        self.assertRaises(errors.NotTaken, widemakings.filled_by, row, ())
+
+    def test_predicates_take_any_value(self):
+        from namesapart import lots, lotworks, meanings, running, trees, widerows
+        for asked in (trees.is_tree, trees.is_plain, meanings.is_work, running.is_program, lots.is_lotted,
+                      lotworks.is_lot_work, widerows.is_wide_pattern, widerows.is_wide_row):
+            for value in ODD_VALUES + (nested(300), [nested(299)], errors.ApartError("x"), ((),) * 1000):
+                patterns = ["()", "(('amount', 1),)"]
+                expected = asked is widerows.is_wide_pattern and repr(value) in patterns
+                self.assertIs(asked(value), expected, f"{asked.__name__}({value!r:.100})")
+
+    def test_lists_are_new(self):
+        from namesapart import lotplain, lostrows, makings, meanings, trees, widerows
+        work = (TREE, ())
+        pattern = (("any", "a"),)
+        rows = ((pattern, ("amount", 1)), (pattern, ("amount", 1)))
+        for function, given in ((trees.parts_of, TREE), (trees.all_paths, TREE), (trees.words_in, TREE),
+                                (meanings.free_words, (read_tree("x"), ())), (makings.outermost_uses, work),
+                                (lotplain.agreeing_manners, TREE), (widerows.piece_numbers, pattern),
+                                (lostrows.lost_rows, rows)):
+            first = function(given)
+            kept = list(first)
+            self.assertIs(type(first), list)
+            first.append("changed")
+            self.assertEqual(function(given), kept)
+
+
+if __name__ == "__main__":
+    unittest.main()

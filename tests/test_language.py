@@ -1,0 +1,185 @@
+"""What can be looked up of the rules for the files of the package."""
+
+import ast
+import builtins
+import re
+import unittest
+from pathlib import Path
+
+PACKAGE = Path(__file__).resolve().parent.parent / "namesapart"
+FILES = sorted(PACKAGE.rglob("*.py"))
+
+METHODS = """append clear copy count endswith extend find get index insert isalnum isalpha isdigit islower isspace isupper
+    items join keys ljust lower lstrip partition pop remove replace reverse rfind rjust rpartition rsplit rstrip
+    setdefault split splitlines startswith strip update upper values zfill bit_length""".split()
+BUILTINS = """len range enumerate zip min max sum abs sorted reversed int str bool list tuple dict set isinstance ord
+    repr any all divmod Exception ValueError TypeError KeyError IndexError LookupError""".split()
+BARRED_NODES = (ast.GeneratorExp, ast.Lambda, ast.Try, ast.Global, ast.Nonlocal, ast.With, ast.AsyncFunctionDef, ast.Await,
+                ast.Yield, ast.YieldFrom, ast.NamedExpr, ast.Match, ast.AnnAssign, ast.Import, ast.Delete)
+BARRED_NAMES = """register mro elements open input law version_info with_traceback add_note attrgetter breakpoint builtins
+    compile copyright credits delattr dir eval exec exit gc getattr globals hasattr help id importlib license locals
+    methodcaller os quit setattr super type vars sys format hash next map iter""".split()
+BARRED_WORDS = """type typing typing_extensions enum Enum IntEnum StrEnum Flag IntFlag Generic Protocol ABC ABCMeta
+    namedtuple NamedTuple TypedDict TYPE_CHECKING abstractmethod""".split()
+
+
+def sources():
+    return [(path.name, path.read_text(encoding="utf-8")) for path in FILES]
+
+
+def parsed():
+    return [(name, ast.parse(text)) for name, text in sources()]
+
+
+def functions_in(tree):
+    return [node for node in ast.walk(tree) if isinstance(node, ast.FunctionDef)]
+
+
+def imported_names(tree):
+    return [alias.name for node in tree.body if isinstance(node, ast.ImportFrom) for alias in node.names]
+
+
+def bound_names(node):
+    """The names that a function binds: parameters and targets."""
+    found = [argument.arg for argument in node.args.args]
+    return found + [inner.id for inner in ast.walk(node) if isinstance(inner, ast.Name) and isinstance(inner.ctx, ast.Store)]
+
+
+class Language(unittest.TestCase):
+    def test_sizes_and_characters(self):
+        for name, text in sources():
+            self.assertLessEqual(len(text.splitlines()), 399, name)
+            for line in text.split("\n"):
+                self.assertLessEqual(len(line), 120, (name, line))
+                self.assertTrue(all([" " <= sign <= "~" for sign in line]), (name, line))
+        for name, tree in parsed():
+            for node in functions_in(tree):
+                self.assertLessEqual(node.end_lineno - node.lineno + 1, 40, (name, node.name))
+
+    def test_nothing_else_is_in_the_folder(self):
+        for path in PACKAGE.rglob("*"):
+            if path.name != "__pycache__" and path.parent.name != "__pycache__":
+                self.assertRegex(path.name, r"^[a-z0-9_]+\.py$")
+
+    def test_barred_statements_and_expressions(self):
+        for name, tree in parsed():
+            for node in ast.walk(tree):
+                self.assertNotIsInstance(node, BARRED_NODES, (name, getattr(node, "lineno", 0)))
+                if isinstance(node, (ast.FunctionDef, ast.ClassDef)):
+                    self.assertEqual(node.decorator_list, [])
+                    self.assertTrue(ast.get_docstring(node) or node.name == "__init__", node.name)
+                if isinstance(node, ast.Constant):
+                    self.assertNotIsInstance(node.value, (float, bytes, complex))
+                    if isinstance(node.value, str):
+                        self.assertNotIn("%", node.value)
+                self.assertFalse(isinstance(node, ast.BinOp) and isinstance(node.op, ast.Div))
+
+    def test_module_level(self):
+        for name, tree in parsed():
+            bound = imported_names(tree)
+            for at, node in enumerate(tree.body):
+                self.assertIsInstance(node, (ast.Expr, ast.ImportFrom, ast.FunctionDef, ast.ClassDef, ast.Assign), name)
+                if isinstance(node, ast.Expr):
+                    self.assertEqual(at, 0)
+                if isinstance(node, (ast.FunctionDef, ast.ClassDef)):
+                    bound.append(node.name)
+                if isinstance(node, ast.Assign):
+                    bound.append(node.targets[0].id)
+                    self.assertEqual(len(node.targets), 1)
+                    for inner in ast.walk(node.value):
+                        self.assertNotIsInstance(inner, (ast.Call, ast.ListComp, ast.SetComp, ast.DictComp, ast.Set))
+            self.assertEqual(len(bound), len(set(bound)), name)
+
+    def test_imports(self):
+        homes = {}
+        for name, tree in parsed():
+            for node in tree.body:
+                if isinstance(node, (ast.FunctionDef, ast.ClassDef)):
+                    homes.setdefault(node.name, []).append(name)
+                if isinstance(node, ast.Assign):
+                    homes.setdefault(node.targets[0].id, []).append(name)
+        needed = {}
+        for name, tree in parsed():
+            for node in ast.walk(tree):
+                if isinstance(node, ast.ImportFrom):
+                    self.assertRegex(node.module, r"^namesapart\.[a-z]+$")
+                    home = node.module.split(".")[1] + ".py"
+                    needed.setdefault(name, []).append(home)
+                    for alias in node.names:
+                        self.assertIsNone(alias.asname)
+                        self.assertIn(home, homes[alias.name], (name, alias.name))
+        order = []
+        while len(order) < len(FILES):
+            ready = [path.name for path in FILES if path.name not in order and set(needed.get(path.name, [])) <= set(order)]
+            self.assertTrue(ready, "files import from each other")
+            order.extend(ready)
+
+    def test_imports_are_used(self):
+        for name, tree in parsed():
+            used = {node.id for node in ast.walk(tree) if isinstance(node, ast.Name)}
+            for told in imported_names(tree):
+                self.assertIn(told, used, name)
+
+    def test_names(self):
+        known = set(dir(builtins)) - {"_"}
+        for name, tree in parsed():
+            outer = set(imported_names(tree)) | {node.name for node in tree.body if hasattr(node, "name")}
+            for node in functions_in(tree):
+                self.assertFalse(set(bound_names(node)) & (known | outer), (name, node.name))
+                for told in bound_names(node) + [node.name]:
+                    self.assertNotIn(told, BARRED_NAMES, name)
+                    self.assertTrue(re.match(r"^(_|[a-z][a-z0-9_]*|__init__)$", told), told)
+                    self.assertFalse(told.startswith(("_wall", "_pe_")))
+            for node in ast.walk(tree):
+                if isinstance(node, ast.Name) and isinstance(node.ctx, ast.Load):
+                    self.assertNotEqual(node.id, "_", name)
+
+    def test_builtins_and_methods(self):
+        known = set(dir(builtins)) - {"_"}
+        own = {node.name for _, tree in parsed() for node in ast.walk(tree) if isinstance(node, (ast.FunctionDef, ast.ClassDef))}
+        for name, tree in parsed():
+            for node in ast.walk(tree):
+                if isinstance(node, ast.Name) and node.id in known:
+                    self.assertIn(node.id, BUILTINS, name)
+                if isinstance(node, ast.Call):
+                    if isinstance(node.func, ast.Attribute):
+                        self.assertIn(node.func.attr, METHODS, name)
+                    else:
+                        # What is called is known by name: nothing that was passed on is called.
+                        self.assertIn(node.func.id, own | known, name)
+
+    def test_barred_words(self):
+        for name, tree in parsed():
+            for node in ast.walk(tree):
+                if isinstance(node, ast.Name):
+                    self.assertNotIn(node.id, BARRED_WORDS)
+                if isinstance(node, ast.Constant) and isinstance(node.value, str):
+                    self.assertFalse(set(re.findall(r"\w+", node.value)) & (set(BARRED_WORDS) - {"type"}), name)
+
+    def test_sets_are_only_looked_at(self):
+        for name, tree in parsed():
+            parents = {id(kid): node for node in ast.walk(tree) for kid in ast.iter_child_nodes(node)}
+            for node in ast.walk(tree):
+                is_set = isinstance(node, (ast.Set, ast.SetComp)) or (
+                    isinstance(node, ast.Call) and isinstance(node.func, ast.Name) and node.func.id == "set")
+                if is_set:
+                    above = parents[id(node)]
+                    if isinstance(above, ast.BinOp):
+                        above = parents[id(above)]
+                    self.assertIsInstance(above, ast.Call, (name, node.lineno))
+                    self.assertIn(above.func.id, ("sorted", "len"), (name, node.lineno))
+
+    def test_zips_and_the_like_are_iterated_at_once(self):
+        for name, tree in parsed():
+            parents = {id(kid): node for node in ast.walk(tree) for kid in ast.iter_child_nodes(node)}
+            for node in ast.walk(tree):
+                if isinstance(node, ast.Call) and isinstance(node.func, ast.Name) and node.func.id in ("zip", "enumerate", "range"):
+                    above = parents[id(node)]
+                    if isinstance(above, ast.Call):
+                        self.assertIn(above.func.id, ("list", "tuple", "enumerate", "sorted"), (name, node.lineno))
+                    else:
+                        self.assertIsInstance(above, (ast.For, ast.comprehension), (name, node.lineno))
+
+
+if __name__ == "__main__":
+    unittest.main()
