@@ -197,7 +197,7 @@ def brought_by_lots(lot_work, path, row):
         pieces = tuple([marked_tree(piece, (marks,)) for piece in pieces])
     brought = filled_form(form, fitted_pieces(pattern, pieces))
     # A great tree is left here, as marks would be put on each of its names alone.
-    if makings >= MOST_MAKINGS or not is_lotted(replaced_part(tree, path, brought)):
+    if not is_lotted(replaced_part(tree, path, brought)):
         return None
     if binds:
         brought = bound_tree(brought, binders, marks)

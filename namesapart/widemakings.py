@@ -82,8 +82,8 @@ def unrolled_row(row, turns):
     """As unrolled."""
     pattern, form = row
     rounds = fresh_rounds(pattern, turns)
-    runs = [renamed_run(run_of_pattern(pattern), fresh) for fresh in rounds]
-    rows = [[piece for run in runs for piece in run] if piece[0] == "each" else [piece] for piece in pattern]
+    run = [piece for fresh in rounds for piece in renamed_run(run_of_pattern(pattern), fresh)]
+    rows = [run if piece[0] == "each" else [piece] for piece in pattern]
     filled = filled_wide(form, {}, [fills_of(fresh) for fresh in rounds])
     told = (tuple([piece for pieces in rows for piece in pieces]), filled)
     if not is_tree(("maker", ("m", ()), (told,), ("amount", 0))):

@@ -76,7 +76,8 @@ class Point48(unittest.TestCase):
             "(maker m (row (word:) 1) 2)", "(maker m (row (use:x) 1) 2)", "(maker m (row ((any:e)) 1) 2)",
             "(maker m (row (01) 1) 2)", "(row () 1)", "(row (any:e) ?e)", "(amount 1)", "(use x)", "(fill x)",
             "(reckon + 1 2)", "(any:e)", "(5 5)", "any:e", "[+ 1 2]", "(+ 1 , 2)", "(+ (row () 1) 1)", "(+ () 1)",
-            "GIVEN", "(Given x 1)", "x\\n", "\"x\"", "(+ 1 2)x y"))
+            "(make (+ 1 2))", "(make ())", "(given (make m) 1)", "(hold (+ 1 2) 1 2)",
+            "(maker (make m) (row () 1) 2)", "(maker m (row ((+ 1 2)) 1) 2)", "GIVEN", "(Given x 1)", "x\\n", "\"x\"", "(+ 1 2)x y"))
 
     def test_fills_for_other_names_are_no_texts(self):
         self.check(InvalidText, ("(make ?n)", "(maker m (row (name:n) (make ?n)) 1)",
@@ -109,7 +110,7 @@ class Point48(unittest.TestCase):
         self.check(InvalidTree, (f"(given x {text})",))
 
     def test_open_brackets(self):
-        self.check(InvalidText, ("(" * 200, "(" * 200 + ")" * 199, "(" * 200 + ")" * 201, "()" * 1000,
+        self.check(InvalidText, ("(" * 200, "()" + "(" * 200, "()" * 9 + "(" * 200, "(" * 200 + ")" * 199, "(" * 200 + ")" * 201, "()" * 1000,
                                  ")" * 10 + "(" * 200, "(" * 200 + ")" + "(", "(" * 200 + ")" * 200))
         self.check(InvalidTree, ("(" * 201, "(" * 201 + ")" * 201, ")" * 10 + "(" * 201, "x y" + "(" * 201,
                                  "(" * 200 + ")" + "((", "%(" * 201, "(" * 201 + "?" + ")" * 300))

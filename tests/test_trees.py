@@ -94,6 +94,10 @@ class Point5(unittest.TestCase):
             self.assertTrue(is_tree(maker((row_of(ONE),) * many)))
         for many in (0, 5):
             self.assertFalse(is_tree(maker((row_of(ONE),) * many)))
+        for good in range(2):
+            rows = (row_of(ONE),) * good + (row_of(ONE, ("any", "any")),) + (row_of(ONE),) * (1 - good)
+            self.assertFalse(is_tree(maker(rows)), "each pattern is looked at")
+            self.assertFalse(is_tree(maker((row_of(ONE),) * good + (row_of(("use", "x")),) + (row_of(ONE),) * (1 - good))))
         self.assertFalse(is_tree(maker([row_of(ONE)])))
         self.assertFalse(is_tree(maker((list(row_of(ONE)),))))
         self.assertFalse(is_tree(maker((row_of(ONE) + (ONE,),))))

@@ -424,7 +424,8 @@ class Narrowed(unittest.TestCase):
     def test_errors(self):
         for rows in ((), None, [LETS], (LETS,) * 7, (LETS, None), LETS):
             self.assertRaises(InvalidRows, narrowed, rows, None)
-        for numbers in ((), (1, 1), (2, 1), (7,), (-1,), (True,), [1], None, 1, (0, 1, 2, 3, 4, 5, 6, 7)):
+        for numbers in ((), (1, 1), (2, 1), (7,), (-1,), (True,), [1], None, 1, (0, 1, 2, 3, 4, 5, 6, 7), (1, 7), (-1, 0),
+                        (0, True), (1, 3, 3), (1, None)):
             self.assertRaises(InvalidNumber, narrowed, (LETS,), numbers)
         self.assertEqual(len(narrowed((LETS,), (0, 1, 2, 3, 4, 5, 6))), 3)
         self.assertEqual(len(narrowed(((numbered("any", 6), ONE),) * 4, (6,))), 4)
@@ -541,6 +542,9 @@ class Point21(unittest.TestCase):
                       ((1, False), (3, 1), (5, 0)), ((1, 0), (3,), (5, 0)), ((1, 0), (3, 1, 1), (5, 0)), (), None, ((1, 0),) * 3,
                       ((1, 0), (2, 0), (3, 1), (5, 0)), ((1, 0), (3, 10 ** 100), (5, 0)), ((1, 0), (3, None), (5, 0))):
             self.assertFalse(is_lost_paper(rows, 2, value), value)
+        narrow = (((FIVE,), ONE), rows[0], rows[0])
+        self.assertTrue(is_lost_paper(narrow, 2, tuple([(number, 1) for number in range(7)])))
+        self.assertFalse(is_lost_paper(narrow, 2, tuple([(number, 0 if number == 1 else 1) for number in range(7)])))
         self.assertFalse(is_lost_paper(rows, 0, tuple([(number, 0) for number in range(7)])))
         self.assertFalse(is_lost_paper((rows[1], rows[0]), 1, tuple([(number, 0) for number in range(7)])), "not wider")
 
