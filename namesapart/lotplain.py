@@ -1,10 +1,11 @@
 """The ends of trees by lots and by makings, and the manners by which both are the same."""
 
-from namesapart.lots import meaning_by_lots
+from namesapart.lots import meaning_of_lot
 from namesapart.lotworks import all_made_by_lots, begun_by_lots, need_bare, need_manner
 from namesapart.makings import all_made, need_order
+from namesapart.meanings import scoped_parts
 from namesapart.plain import plain_by, plain_or_wanting
-from namesapart.shapes import part_by, placed_parts
+from namesapart.shapes import part_by
 
 
 def lot_end(bare, manner, order):
@@ -38,15 +39,16 @@ def end_by_lots(bare, manner, order):
         return result
     tree = result[1][1]
     meant = {}
-    for path, part in placed_parts(tree, False):
+    placed = scoped_parts(tree)
+    for path, part, around in placed:
         if part[0] == "use":
-            found = meaning_by_lots(tree, path, part[1])
+            found = meaning_of_lot(around, part[1])
             if found[0] == "doubtful":
                 return ("doubtful", path)
             if found[0] == "means" and part_by(tree, found[1])[0] == "maker":
                 return ("wanting", path)
             meant[path] = found[1] if found[0] == "means" else None
-    return ("plain", plain_by(tree, meant))
+    return ("plain", plain_by(tree, placed, meant))
 
 
 def end_by_makings(bare, order):

@@ -35,17 +35,23 @@ def lot_meaning(lotted, path, name):
 
 def is_within(lot, other):
     """Whether all marks of a lot are among those of another one."""
-    return len(set(lot) - set(other)) == 0
+    return len(lot) <= len(other) and all([mark in other for mark in lot])
 
 
 def meaning_by_lots(lotted, path, name):
     """As lot_meaning."""
+    return meaning_of_lot(binders_around(lotted, path), name)
+
+
+def meaning_of_lot(around, name):
+    """What a name means, by lots, at a place with these binders around."""
     word, lot = name
     # Inner binders come behind outer ones, so the nearest one of several with the same lot stays.
-    around = {bound[1]: binder for binder, bound in binders_around(lotted, path) if bound[0] == word}
-    heard = {own: binder for own, binder in around.items() if is_within(own, lot)}
+    heard = {bound[1]: binder for binder, bound in around if bound[0] == word and is_within(bound[1], lot)}
     if not heard:
         return ("nothing",)
+    if len(heard) == 1:
+        return ("means", list(heard.values())[0])
     # If just one lot is not within another one, all the others are within it.
     tops = [own for own in heard if not any([own != other and is_within(own, other) for other in heard])]
     if len(tops) == 1:

@@ -2,10 +2,11 @@
 
 from namesapart.errors import InvalidLotWork, InvalidManner, InvalidTree
 from namesapart.lots import is_lotted, meaning_by_lots
-from namesapart.makings import need_order, need_outermost, use_to_make
+from namesapart.makings import fits_at, need_order, need_outermost, use_to_make
 from namesapart.meanings import MOST_MAKINGS, rows_place
 from namesapart.shapes import (
     BINDERS,
+    LEAVES,
     all_names,
     filled_form,
     fitted_pieces,
@@ -18,7 +19,7 @@ from namesapart.shapes import (
     with_parts,
 )
 from namesapart.trees import need_tree
-from namesapart.words import is_between
+from namesapart.words import LOT_BOUNDS, is_between
 
 MOST_MARKS = 10 ** 6
 
@@ -86,6 +87,8 @@ def bound_tree(tree, binders, marks):
 
 def tree_with_marks(tree, path, numbers, marks):
     """The part at a path with these marks put, and with those of the binders in it."""
+    if tree[0] in LEAVES:
+        return marked_here(tree, marks)
     own = marks + (numbers[path],) if path in numbers else marks
     kids = []
     for at, kid in enumerate(parts_in(tree)):
@@ -141,7 +144,7 @@ def lot_making_at(lot_work, path):
     if index is None:
         return ("stopped", path, "row")
     made = brought_by_lots(lot_work, path, part_by(tree, maker)[2][index])
-    if made is None or not is_lot_work(made):
+    if made is None:
         return ("stopped", path, "great")
     return ("made", made)
 
@@ -184,8 +187,10 @@ def mean_same_by_lots(tree, path, name, other_path, other_name):
 
 
 def brought_by_lots(lot_work, path, row):
-    """What comes of the use at a path by a row that fits it, or None if it is surely no lot work."""
+    """What comes of the use at a path by a row that fits it, or None if it would be no lot work."""
     (binds, brings, hands), tree, makings, marks = lot_work
+    if makings >= MOST_MAKINGS:
+        return None
     pattern, form = row
     pieces = part_by(tree, path)[2]
     binders = binders_outside(form)
@@ -197,9 +202,12 @@ def brought_by_lots(lot_work, path, row):
         pieces = tuple([marked_tree(piece, (marks,)) for piece in pieces])
     brought = filled_form(form, fitted_pieces(pattern, pieces))
     # A great tree is left here, as marks would be put on each of its names alone.
-    if not is_lotted(replaced_part(tree, path, brought)):
+    if not fits_at(tree, path, brought, LOT_BOUNDS):
         return None
     if binds:
         brought = bound_tree(brought, binders, marks)
         marks += len(binders)
+    # The marks put ascend, and none is greater than the last one.
+    if marks > MOST_MARKS or any([len(lot) > LOT_BOUNDS[0] for _, lot in all_names(brought)]):
+        return None
     return (lot_work[0], replaced_part(tree, path, brought), makings + 1, marks)

@@ -4,13 +4,14 @@ from namesapart.errors import InvalidOrder, InvalidPath
 from namesapart.meanings import MOST_MAKINGS, are_meant_alike, meaning_of, need_work, rows_place
 from namesapart.shapes import (
     filled_form,
+    fits_within,
     fitted_pieces,
-    has_shape,
     is_path,
     marked_tree,
     part_by,
     parts_in,
     replaced_part,
+    size_of,
 )
 from namesapart.words import NAME_BOUNDS, is_integer
 
@@ -91,11 +92,36 @@ def all_made(work, order):
 
 def use_to_make(tree, order):
     """The path of the use that is made next, or None, and what is left of the order behind it."""
-    uses = outermost_in(tree)
-    for at, path in enumerate(order):
-        if path in uses:
-            return (path, order[at + 1:])
-    return (uses[0] if uses else None, ())
+    if order:
+        uses = outermost_in(tree)
+        for at, path in enumerate(order):
+            if path in uses:
+                return (path, order[at + 1:])
+    return (first_outermost(tree), ())
+
+
+def first_outermost(tree):
+    """The path of the first one of the uses of makers that stand in no row, or None."""
+    if tree[0] == "make":
+        return ()
+    if tree[0] == "maker":
+        found = first_outermost(tree[3])
+        return None if found is None else (len(tree[2]), *found)
+    for at, kid in enumerate(parts_in(tree)):
+        found = first_outermost(kid)
+        if found is not None:
+            return (at, *found)
+    return None
+
+
+def fits_at(tree, path, brought, bounds):
+    """Whether a tree stays one, marks being within the bounds, if what is brought comes in the place of a use in it.
+
+    All else in it being told like a tree already, and no hole having a pattern around the use, only what
+    comes is looked at.
+    """
+    left = size_of(tree) - size_of(part_by(tree, path))
+    return fits_within(brought, bounds, left, len(path) + 1)
 
 
 def making_at(work, path):
@@ -112,10 +138,9 @@ def making_at(work, path):
     pattern, form = part_by(tree, maker)[2][index]
     pieces = fitted_pieces(pattern, part_by(tree, path)[2])
     brought = filled_form(marked_tree(form, (len(makings) + 1,)), pieces)
-    made = replaced_part(tree, path, brought)
-    if not has_shape(made, NAME_BOUNDS):
+    if not fits_at(tree, path, brought, NAME_BOUNDS):
         return ("stopped", path, "great")
-    return ("made", (made, makings + (maker,)))
+    return ("made", (replaced_part(tree, path, brought), makings + (maker,)))
 
 
 def meant_maker(work, path):

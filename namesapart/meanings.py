@@ -1,7 +1,7 @@
 """Works, and what names mean in them."""
 
 from namesapart.errors import InvalidName, InvalidWork
-from namesapart.shapes import is_path, part_by, parts_in, placed_parts
+from namesapart.shapes import LEAVES, is_path, part_by, parts_in
 from namesapart.trees import is_tree, need_path, need_tree
 from namesapart.words import NAME_BOUNDS, is_marked
 
@@ -66,9 +66,34 @@ def binders_around(tree, path):
     return found
 
 
-def nearest_binder(tree, path, name):
-    """The path of the nearest binder around a place that binds this very name there, or None."""
-    for binder, bound in binders_around(tree, path)[::-1]:
+def scoped_parts(tree):
+    """For each part outside of rows, in ascending order of the paths, its path, itself, and the binders around it.
+
+    These are told as binders_around tells them.
+    """
+    found = []
+    todo = [((), tree, [])]
+    while todo:
+        path, part, around = todo.pop()
+        found.append((path, part, around))
+        kind = part[0]
+        if kind == "maker":
+            todo.append((path + (len(part[2]),), part[3], around + [(path, part[1])]))
+        elif kind == "given":
+            todo.append((path + (0,), part[2], around + [(path, part[1])]))
+        elif kind == "hold":
+            todo.append((path + (1,), part[3], around + [(path, part[1])]))
+            todo.append((path + (0,), part[2], around))
+        elif kind not in LEAVES:
+            kids = [(path + (index,), kid, around) for index, kid in enumerate(parts_in(part))]
+            kids.reverse()
+            todo.extend(kids)
+    return found
+
+
+def nearest_of(around, name):
+    """The path of the nearest one of the binders around a place that binds this very name there, or None."""
+    for binder, bound in around[::-1]:
         if bound == name:
             return binder
     return None
@@ -81,14 +106,18 @@ def rows_place(maker):
 
 def meaning_of(work, path, name):
     """The path of the binder that a name means at a place of a work, or None."""
+    return meaning_within(work, binders_around(work[0], path), name)
+
+
+def meaning_within(work, around, name):
+    """The path of the binder that a name means at a place with these binders around, or None."""
     tree, makings = work
-    place = path
     word, marks = name
-    found = nearest_binder(tree, place, name)
+    found = nearest_of(around, name)
     while found is None and marks and marks[-1] <= len(makings):
         place = rows_place(makings[marks[-1] - 1])
         marks = marks[:-1]
-        found = nearest_binder(tree, place, (word, marks))
+        found = nearest_of(binders_around(tree, place), (word, marks))
     return found
 
 
@@ -126,5 +155,5 @@ def free_words(work):
 
 def words_free_in(work):
     """As free_words."""
-    uses = [(path, part[1]) for path, part in placed_parts(work[0], False) if part[0] in ("use", "make")]
-    return sorted({name[0] for path, name in uses if meaning_of(work, path, name) is None})
+    uses = [(part[1], around) for _, part, around in scoped_parts(work[0]) if part[0] in ("use", "make")]
+    return sorted({name[0] for name, around in uses if meaning_within(work, around, name) is None})

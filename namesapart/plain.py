@@ -1,8 +1,9 @@
 """Plain trees, and trees that are alike."""
 
 from namesapart.errors import InvalidWork
-from namesapart.meanings import meaning_of, need_work
-from namesapart.shapes import part_by, parts_in, placed_parts, with_parts
+from namesapart.makings import first_outermost
+from namesapart.meanings import meaning_within, need_work, scoped_parts
+from namesapart.shapes import part_by, parts_in, with_parts
 from namesapart.trees import need_plain
 from namesapart.words import first_words
 
@@ -15,7 +16,7 @@ def is_made(work):
 
 def has_no_use(tree):
     """Whether no use of a maker stands outside of the rows of a tree."""
-    return not any([part[0] == "make" for _, part in placed_parts(tree, False)])
+    return first_outermost(tree) is None
 
 
 def plain_tree(work):
@@ -43,20 +44,20 @@ def plain_or_wanting(work):
     """As plain_tree, of a work that is made."""
     tree = work[0]
     meant = {}
-    for path, part in placed_parts(tree, False):
+    placed = scoped_parts(tree)
+    for path, part, around in placed:
         if part[0] == "use":
-            found = meaning_of(work, path, part[1])
+            found = meaning_within(work, around, part[1])
             if found is not None and part_by(tree, found)[0] == "maker":
                 return ("wanting", path)
             meant[path] = found
-    return plain_by(tree, meant)
+    return plain_by(tree, placed, meant)
 
 
-def plain_by(tree, meant):
-    """The plain tree of a tree, the paths of what its uses outside of rows mean being told by their own."""
-    placed = placed_parts(tree, False)
-    free = [part[1][0] for path, part in placed if part[0] == "use" and meant[path] is None]
-    binders = [path for path, part in placed if part[0] in ("given", "hold")]
+def plain_by(tree, placed, meant):
+    """The plain tree of a tree with these parts outside of rows, what uses mean being told by their paths."""
+    free = [part[1][0] for path, part, _ in placed if part[0] == "use" and meant[path] is None]
+    binders = [path for path, part, _ in placed if part[0] in ("given", "hold")]
     words = first_words(len(binders), free)
     return renamed_plainly(tree, (), meant, {path: word for path, word in zip(binders, words)})
 
@@ -69,6 +70,8 @@ def renamed_plainly(tree, path, meant, words):
     if kind == "use":
         word = tree[1][0] if meant[path] is None else words[meant[path]]
         return ("use", (word, ()))
+    if kind == "amount":
+        return tree
     kids = [renamed_plainly(kid, path + (at,), meant, words) for at, kid in enumerate(parts_in(tree))]
     if kind in ("given", "hold"):
         return (kind, (words[path], ()), *kids)

@@ -13,6 +13,10 @@ MOST_PIECES = 6
 SIGNS = ("+", "-", "*")
 BINDERS = ("given", "hold", "maker")
 NAMED = ("use", "make", "given", "hold", "maker")
+LEAVES = ("use", "amount", "fill")
+
+# Where the trees that stand directly in one begin, if they stand behind one another to its end.
+FIRST_PART = {"apply": 1, "test": 1, "each": 1, "fold": 1, "reckon": 2, "given": 2, "hold": 2}
 ITEMS = {
     "amount": 2,
     "use": 2,
@@ -30,10 +34,8 @@ ITEMS = {
 def parts_in(tree):
     """The trees and forms that stand directly in a tree, in order."""
     kind = tree[0]
-    if kind in ("apply", "test", "each", "fold"):
-        return list(tree[1:])
-    if kind in ("reckon", "given", "hold"):
-        return list(tree[2:])
+    if kind in FIRST_PART:
+        return list(tree[FIRST_PART[kind]:])
     if kind == "make":
         return list(tree[2])
     if kind == "maker":
@@ -44,10 +46,8 @@ def parts_in(tree):
 def with_parts(tree, kids):
     """The tree with other parts in the places of its own."""
     kind = tree[0]
-    if kind in ("apply", "test", "each", "fold"):
-        return (kind, *kids)
-    if kind in ("reckon", "given", "hold"):
-        return (kind, tree[1], *kids)
+    if kind in FIRST_PART:
+        return tree[:FIRST_PART[kind]] + tuple(kids)
     if kind == "make":
         return (kind, tree[1], tuple(kids))
     if kind == "maker":
@@ -91,18 +91,30 @@ def placed_parts(tree, into_rows):
     found = []
     todo = [((), tree)]
     while todo:
-        path, part = todo.pop()
-        found.append((path, part))
-        kids = list(enumerate(parts_in(part)))
+        place = todo.pop()
+        found.append(place)
+        path, part = place
         if part[0] == "maker" and not into_rows:
-            kids = kids[-1:]
-        todo.extend([(path + (index,), kid) for index, kid in kids[::-1]])
+            todo.append((path + (len(part[2]),), part[3]))
+        elif part[0] not in LEAVES:
+            kids = [(path + (index,), kid) for index, kid in enumerate(parts_in(part))]
+            kids.reverse()
+            todo.extend(kids)
     return found
 
 
 def size_of(tree):
     """How many trees, forms and pieces of patterns a tree consists of."""
-    return sum([1 + count_pieces(part) for _, part in placed_parts(tree, True)])
+    size = 0
+    todo = [tree]
+    while todo:
+        part = todo.pop()
+        size = size + 1
+        if part[0] == "maker":
+            size = size + count_pieces(part)
+        if part[0] not in LEAVES:
+            todo.extend(parts_in(part))
+    return size
 
 
 def count_pieces(part):
@@ -174,44 +186,45 @@ def is_node(value, holes, bounds):
     kind = value[0]
     if ITEMS.get(kind) != len(value):
         return False
+    if kind in ("use", "make"):
+        if not is_marked(value[1], bounds):
+            return False
+        return kind == "use" or isinstance(value[2], tuple) and len(value[2]) <= MOST_PIECES
+    if kind in BINDERS:
+        if not is_binder_name(value[1], holes, bounds):
+            return False
+        return kind != "maker" or are_row_patterns(value[2], holes, bounds)
     if kind == "amount":
         return is_amount(value[1])
     if kind == "fill":
         return is_fill(value, holes)
-    if kind == "reckon":
-        return value[1] in SIGNS
-    if kind in ("use", "make") and not is_marked(value[1], bounds):
-        return False
-    if kind in BINDERS and not is_binder_name(value[1], holes, bounds):
-        return False
-    if kind == "make":
-        return isinstance(value[2], tuple) and len(value[2]) <= MOST_PIECES
-    return kind != "maker" or are_row_patterns(value[2], holes, bounds)
-
-
-def holes_in_parts(node, holes):
-    """For each part of a tree or a form, the holes that can be filled in it."""
-    if node[0] != "maker":
-        return [holes for _ in parts_in(node)]
-    return [{**holes, **pattern_holes(pattern)} for pattern, _ in node[2]] + [holes]
+    return kind != "reckon" or value[1] in SIGNS
 
 
 def has_shape(value, bounds):
-    """Whether a value is a tree without fills but those of rows, marks being within the bounds.
+    """Whether a value is a tree without fills but those of rows, marks being within the bounds."""
+    return fits_within(value, bounds, 0, 1)
+
+
+def fits_within(value, bounds, size, depth):
+    """As has_shape, of what stands so deep in a tree, of which so much is counted already.
 
     What is counted stops at the bounds, so that great values, and those that share parts, end soon.
     """
-    todo = [(value, {}, 1)]
-    size = 0
+    todo = [(value, {}, depth)]
     while todo:
         part, holes, depth = todo.pop()
         if depth > MOST_DEPTH or not is_node(part, holes, bounds):
             return False
-        size = size + 1 + count_pieces(part)
+        size = size + 1
+        if part[0] == "maker":
+            size = size + count_pieces(part)
+            todo.extend([(form, {**holes, **pattern_holes(pattern)}, depth + 1) for pattern, form in part[2]])
+            todo.append((part[3], holes, depth + 1))
+        elif part[0] not in LEAVES:
+            todo.extend([(kid, holes, depth + 1) for kid in parts_in(part)])
         if size > MOST_SIZE:
             return False
-        inner = holes_in_parts(part, holes)
-        todo.extend([(kid, within, depth + 1) for kid, within in zip(parts_in(part), inner)])
     return True
 
 
@@ -227,7 +240,15 @@ def own_names(tree):
 
 def all_names(tree):
     """All names of a tree, those in its rows, too."""
-    return [name for _, part in placed_parts(tree, True) for name in own_names(part)]
+    found = []
+    todo = [tree]
+    while todo:
+        part = todo.pop()
+        if part[0] in NAMED:
+            found.extend(own_names(part))
+        if part[0] not in LEAVES:
+            todo.extend(parts_in(part)[::-1])
+    return found
 
 
 def with_names(tree, names):
@@ -248,11 +269,24 @@ def pattern_with_names(pattern, names):
 
 def marked_here(tree, marks):
     """The tree with marks behind those of its own names."""
-    return with_names(tree, {name: (name[0], name[1] + marks) for name in own_names(tree)})
+    if not marks or tree[0] not in NAMED:
+        return tree
+    name = tree[1] if tree[1][0] == "fill" else (tree[1][0], tree[1][1] + marks)
+    if tree[0] != "maker":
+        return (tree[0], name, *tree[2:])
+    rows = tuple([(marked_pattern(pattern, marks), form) for pattern, form in tree[2]])
+    return ("maker", name, rows, tree[3])
+
+
+def marked_pattern(pattern, marks):
+    """The pattern with marks behind those of all its names."""
+    return tuple([(kind, (told[0], told[1] + marks)) if kind == "word" else (kind, told) for kind, told in pattern])
 
 
 def marked_tree(tree, marks):
     """The tree with marks behind those of all its names."""
+    if tree[0] in LEAVES:
+        return marked_here(tree, marks)
     kids = [marked_tree(kid, marks) for kid in parts_in(tree)]
     return marked_here(with_parts(tree, kids), marks)
 
@@ -270,8 +304,8 @@ def fitted_pieces(pattern, pieces):
 
 def filled_form(form, pieces):
     """The form with pieces, by hole, in the places of fills; fills of other holes stay."""
-    if form[0] == "fill":
-        return pieces.get(form[1], form)
+    if form[0] in LEAVES:
+        return pieces.get(form[1], form) if form[0] == "fill" else form
     kids = [filled_form(kid, pieces) for kid in parts_in(form)]
     return filled_name(with_parts(form, kids), pieces)
 

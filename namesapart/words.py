@@ -29,12 +29,12 @@ def is_word(value):
     """Whether a value is a word."""
     if not isinstance(value, str) or not 1 <= len(value) <= MOST_LETTERS:
         return False
-    return all([letter in LETTERS for letter in value]) and value not in NO_WORDS
+    return value.isascii() and value.isalpha() and value.islower() and value not in NO_WORDS
 
 
 def is_ascending(numbers):
     """Whether each one is greater than the one ahead of it."""
-    return all([numbers[at] < numbers[at + 1] for at in range(len(numbers) - 1)])
+    return all([one < other for one, other in zip(numbers, numbers[1:])])
 
 
 def are_marks(value, bounds):
@@ -42,7 +42,11 @@ def are_marks(value, bounds):
     many, greatest = bounds
     if not isinstance(value, tuple) or len(value) > many:
         return False
-    return all([is_between(mark, 1, greatest) for mark in value]) and is_ascending(value)
+    if not all([is_integer(mark) for mark in value]):
+        return False
+    if not value:
+        return True
+    return 1 <= value[0] and value[-1] <= greatest and is_ascending(value)
 
 
 def is_marked(value, bounds):

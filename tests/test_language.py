@@ -11,7 +11,7 @@ FILES = sorted(PACKAGE.rglob("*.py"))
 
 METHODS = """append clear copy count endswith extend find get index insert isalnum isalpha isdigit islower isspace isupper
     items join keys ljust lower lstrip partition pop remove replace reverse rfind rjust rpartition rsplit rstrip
-    setdefault split splitlines startswith strip update upper values zfill bit_length""".split()
+    setdefault split splitlines startswith strip update upper values zfill bit_length isascii""".split()
 BUILTINS = """len range enumerate zip min max sum abs sorted reversed int str bool list tuple dict set isinstance ord
     repr any all divmod Exception ValueError TypeError KeyError IndexError LookupError""".split()
 BARRED_NODES = (ast.GeneratorExp, ast.Lambda, ast.Try, ast.Global, ast.Nonlocal, ast.With, ast.AsyncFunctionDef, ast.Await,

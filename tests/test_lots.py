@@ -298,6 +298,48 @@ class Point15(unittest.TestCase):
             self.assertEqual([name[1] for name in all_names(made[1])][2:], lots)
 
 
+# A maker whose form has a maker, made around one another: many makings, and names that other manners mix up.
+G = """(hold x 6 (maker m (row (name:n any:e)
+    (maker k (row (any:u) (hold x ?u (* (hold x 2 (- x ?e)) ?u))) (hold ?n 3 (make k ?e))))
+    (hold x 5 (make m x (make m a x)))))"""
+G_TREE = ("hold", ("x", ()), ("amount", 6), ("maker", ("m", ()), (((("name", "n"), ("any", "e")), ("maker", ("k", ()), (
+    ((("any", "u"),), ("hold", ("x", ()), ("fill", "u"), ("reckon", "*", ("hold", ("x", ()), ("amount", 2),
+     ("reckon", "-", ("use", ("x", ())), ("fill", "e"))), ("fill", "u")))),), ("hold", ("fill", "n"), ("amount", 3),
+     ("make", ("k", ()), (("fill", "e"),))))),), ("hold", ("x", ()), ("amount", 5), ("make", ("m", ()), (
+         ("use", ("x", ())), ("make", ("m", ()), (("use", ("a", ())), ("use", ("x", ())))))))))
+
+
+def end_of_g(*words):
+    """The plain tree of an end of G, its uses that are told otherwise by some manners having these words."""
+    text = """(hold a 6 (hold b 5 (hold c 3 (hold d (hold e 3 (hold f c (* (hold g 2 (- g {})) {})))
+        (* (hold h 2 (- h (hold i 3 (hold j {} (* (hold k 2 (- k {})) {})))))
+        (hold l 3 (hold m {} (* (hold n 2 (- n {})) {}))))))))"""
+    return ("plain", read_tree(text.format(*words)))
+
+
+class EndsOfG(unittest.TestCase):
+    def test_text(self):
+        self.assertEqual(read_tree(G), G_TREE)
+
+    def test_ends_by_all_manners_and_by_makings(self):
+        told = {
+            (False, False, False): end_of_g("g", "f", "h", "k", "j", "d", "n", "m"),
+            (False, False, True): end_of_g(*"cccccccc"),
+            (False, True, False): end_of_g(*"cccccccc"),
+            (False, True, True): end_of_g(*"cccccccc"),
+            (True, False, False): ("doubtful", (1, 1, 1, 1, 1, 0, 1, 1, 1, 0, 1, 1)),
+            (True, False, True): ("doubtful", (1, 1, 1, 1, 1, 0, 1, 1, 1, 0, 1, 1)),
+            (True, True, False): end_of_g(*"ccbbbccc"),
+            (True, True, True): end_of_g(*"ccbbbccc"),
+        }
+        tree = read_tree(G)
+        for manner in MANNERS:
+            self.assertEqual(lot_end(tree, manner, ()), told[manner], manner)
+        self.assertEqual(making_end(tree, ()), told[ALL])
+        self.assertEqual(agreeing_manners(tree), [(True, True, False), ALL])
+        self.assertEqual(made_by_lots(tree, ALL, ())[1][2:], (8, 35))
+
+
 class Point16(unittest.TestCase):
     def test_kinds_of_ends(self):
         for text, end in (("(make m)", ("stopped", (), "maker")), ("(maker m (row () 1) (+ 1 m))", ("wanting", (1, 1))),
