@@ -1,11 +1,12 @@
 """The ends of trees by lots and by makings, and the manners by which both are the same."""
 
 from namesapart.lots import meaning_of_lot
-from namesapart.lotworks import all_made_by_lots, begun_by_lots, need_bare, need_manner
+from namesapart.lotworks import all_made_by_lots, begun_by_lots, need_manner
 from namesapart.makings import all_made, need_order
 from namesapart.meanings import scoped_parts
 from namesapart.plain import plain_by, plain_or_wanting
 from namesapart.shapes import part_by
+from namesapart.trees import need_bare
 
 
 def lot_end(bare, manner, order):
@@ -39,7 +40,7 @@ def end_by_lots(bare, manner, order):
         return result
     tree = result[1][1]
     meant = {}
-    placed = scoped_parts(tree)
+    placed = scoped_parts(tree, False)
     for path, part, around in placed:
         if part[0] == "use":
             found = meaning_of_lot(around, part[1])

@@ -1,6 +1,6 @@
 """Works told by lots of marks, and making in them."""
 
-from namesapart.errors import InvalidLotWork, InvalidManner, InvalidTree
+from namesapart.errors import InvalidLotWork, InvalidManner
 from namesapart.lots import is_lotted, meaning_by_lots
 from namesapart.makings import fits_at, need_order, need_outermost, use_to_make
 from namesapart.meanings import MOST_MAKINGS, rows_place
@@ -18,7 +18,7 @@ from namesapart.shapes import (
     replaced_part,
     with_parts,
 )
-from namesapart.trees import need_tree
+from namesapart.trees import need_bare
 from namesapart.words import LOT_BOUNDS, is_between
 
 MOST_MARKS = 10 ** 6
@@ -45,13 +45,6 @@ def need_lot_work(value):
     """Raises an error if a value is no lot work."""
     if not is_lot_work(value):
         raise InvalidLotWork("not a lot work")
-
-
-def need_bare(value):
-    """Raises an error if a value is no tree whose names are all bare."""
-    need_tree(value)
-    if any([marks for _, marks in all_names(value)]):
-        raise InvalidTree("a tree with a name that is not bare")
 
 
 def need_manner(value):

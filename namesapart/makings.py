@@ -127,20 +127,37 @@ def fits_at(tree, path, brought, bounds):
 def making_at(work, path):
     """As made_once."""
     tree, makings = work
+    chosen = row_chosen(work, path)
+    if chosen[0] == "stopped":
+        return chosen
+    _, maker, row = chosen
+    made = None
+    if len(makings) < MOST_MAKINGS:
+        made = brought_into(tree, path, row, (len(makings) + 1,))
+    if made is None:
+        return ("stopped", path, "great")
+    return ("made", (made, makings + (maker,)))
+
+
+def row_chosen(work, path):
+    """The maker that the use at a path means, by its path, and the row that fits, or the stop of the use."""
     maker = meant_maker(work, path)
     if maker is None:
         return ("stopped", path, "maker")
     index = fitting_row(work, path, maker)
     if index is None:
         return ("stopped", path, "row")
-    if len(makings) >= MOST_MAKINGS:
-        return ("stopped", path, "great")
-    pattern, form = part_by(tree, maker)[2][index]
+    return ("chosen", maker, part_by(work[0], maker)[2][index])
+
+
+def brought_into(tree, path, row, marks):
+    """The tree with the form of a row, with marks, in the place of the use at a path; None if it would be no tree."""
+    pattern, form = row
     pieces = fitted_pieces(pattern, part_by(tree, path)[2])
-    brought = filled_form(marked_tree(form, (len(makings) + 1,)), pieces)
+    brought = filled_form(marked_tree(form, marks), pieces)
     if not fits_at(tree, path, brought, NAME_BOUNDS):
-        return ("stopped", path, "great")
-    return ("made", (replaced_part(tree, path, brought), makings + (maker,)))
+        return None
+    return replaced_part(tree, path, brought)
 
 
 def meant_maker(work, path):

@@ -1,7 +1,7 @@
 """Works, and what names mean in them."""
 
 from namesapart.errors import InvalidName, InvalidWork
-from namesapart.shapes import LEAVES, is_path, part_by, parts_in
+from namesapart.shapes import BINDERS, LEAVES, is_path, part_by, parts_in
 from namesapart.trees import is_tree, need_path, need_tree
 from namesapart.words import NAME_BOUNDS, is_marked
 
@@ -66,29 +66,33 @@ def binders_around(tree, path):
     return found
 
 
-def scoped_parts(tree):
-    """For each part outside of rows, in ascending order of the paths, its path, itself, and the binders around it.
+def scoped_parts(tree, into_rows):
+    """For each part, in ascending order of the paths, its path, itself, and the binders around it.
 
-    These are told as binders_around tells them.
+    These are told as binders_around tells them; parts in rows come only if they are asked for.
     """
     found = []
     todo = [((), tree, [])]
     while todo:
-        path, part, around = todo.pop()
-        found.append((path, part, around))
-        kind = part[0]
-        if kind == "maker":
-            todo.append((path + (len(part[2]),), part[3], around + [(path, part[1])]))
-        elif kind == "given":
-            todo.append((path + (0,), part[2], around + [(path, part[1])]))
-        elif kind == "hold":
-            todo.append((path + (1,), part[3], around + [(path, part[1])]))
-            todo.append((path + (0,), part[2], around))
-        elif kind not in LEAVES:
-            kids = [(path + (index,), kid, around) for index, kid in enumerate(parts_in(part))]
-            kids.reverse()
-            todo.extend(kids)
+        place = todo.pop()
+        found.append(place)
+        if place[1][0] not in LEAVES:
+            todo.extend(scoped_kids(place, into_rows)[::-1])
     return found
+
+
+def scoped_kids(place, into_rows):
+    """As scoped_parts, of the parts that stand directly in one that is told so."""
+    path, part, around = place
+    if part[0] not in BINDERS:
+        return [(path + (index,), kid, around) for index, kid in enumerate(parts_in(part))]
+    inner = around + [(path, part[1])]
+    if part[0] == "maker" and not into_rows:
+        return [(path + (len(part[2]),), part[3], inner)]
+    kids = [(path + (index,), kid, inner) for index, kid in enumerate(parts_in(part))]
+    if part[0] == "hold":
+        kids[0] = (path + (0,), part[2], around)
+    return kids
 
 
 def nearest_of(around, name):
@@ -155,5 +159,5 @@ def free_words(work):
 
 def words_free_in(work):
     """As free_words."""
-    uses = [(part[1], around) for _, part, around in scoped_parts(work[0]) if part[0] in ("use", "make")]
+    uses = [(part[1], around) for _, part, around in scoped_parts(work[0], False) if part[0] in ("use", "make")]
     return sorted({name[0] for name, around in uses if meaning_within(work, around, name) is None})

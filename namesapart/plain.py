@@ -44,7 +44,7 @@ def plain_or_wanting(work):
     """As plain_tree, of a work that is made."""
     tree = work[0]
     meant = {}
-    placed = scoped_parts(tree)
+    placed = scoped_parts(tree, False)
     for path, part, around in placed:
         if part[0] == "use":
             found = meaning_within(work, around, part[1])

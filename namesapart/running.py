@@ -46,7 +46,14 @@ def shown_by(tree, most):
     """The first stop of making a tree, what hinders its running, or its end."""
     need_tree(tree)
     need_steps(most)
-    result = all_made((tree, ()), ())
+    told = program_of(all_made((tree, ()), ()))
+    if told[0] != "program":
+        return told
+    return run_within(told[1], most)[0]
+
+
+def program_of(result):
+    """The program that what comes of making is, or what hinders its running."""
     if result[0] == "stopped":
         return result
     plain = plain_or_wanting(result[1])
@@ -55,7 +62,7 @@ def shown_by(tree, most):
     free = words_free_in((plain, ()))
     if free:
         return ("free", tuple(free))
-    return run_within(plain, most)[0]
+    return ("program", plain)
 
 
 def run_within(program, most):

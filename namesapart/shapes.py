@@ -1,7 +1,8 @@
 """How trees and forms are built, whatever marks their names have.
 
 Names are pairs of a word and of marks; a lotted tree has the same shape as a tree, with other bounds
-of its marks. The parts of wide forms ("each", "fold" and "rest") are walked through here, too.
+of its marks. The parts of wide forms ("each", "fold" and "rest"), and those of staged trees ("code", "put",
+"run" and "lift"), are walked through here, too.
 """
 
 from namesapart.words import is_amount, is_integer, is_marked, is_word
@@ -16,7 +17,19 @@ NAMED = ("use", "make", "given", "hold", "maker")
 LEAVES = ("use", "amount", "fill")
 
 # Where the trees that stand directly in one begin, if they stand behind one another to its end.
-FIRST_PART = {"apply": 1, "test": 1, "each": 1, "fold": 1, "reckon": 2, "given": 2, "hold": 2}
+FIRST_PART = {
+    "apply": 1,
+    "test": 1,
+    "reckon": 2,
+    "given": 2,
+    "hold": 2,
+    "each": 1,
+    "fold": 1,
+    "code": 1,
+    "put": 1,
+    "run": 1,
+    "lift": 1,
+}
 ITEMS = {
     "amount": 2,
     "use": 2,

@@ -32,6 +32,18 @@ def need_plain(value):
         raise InvalidTree("not a tree without makers, uses of makers and marks")
 
 
+def need_bare(value):
+    """Raises an error if a value is no tree whose names are all bare."""
+    need_tree(value)
+    if any([marks for _, marks in all_names(value)]):
+        raise InvalidTree("a tree with a name that is not bare")
+
+
+def stands_alone(row):
+    """Whether a value is a row that can stand in a tree as the only one of a maker."""
+    return is_tree(("maker", ("m", ()), (row,), ("amount", 0)))
+
+
 def need_path(tree, value):
     """Raises an error if a value is no path of a tree."""
     if not is_path(tree, value):

@@ -13,7 +13,7 @@ from namesapart.shapes import (
     replaced_part,
     with_parts,
 )
-from namesapart.trees import is_tree
+from namesapart.trees import is_tree, stands_alone
 from namesapart.widerows import (
     first_refused,
     held_pieces,
@@ -86,7 +86,7 @@ def unrolled_row(row, turns):
     rows = [run if piece[0] == "each" else [piece] for piece in pattern]
     filled = filled_wide(form, {}, [fills_of(fresh) for fresh in rounds])
     told = (tuple([piece for pieces in rows for piece in pieces]), filled)
-    if not is_tree(("maker", ("m", ()), (told,), ("amount", 0))):
+    if not stands_alone(told):
         raise InvalidTree("what the row is unrolled to can stand in no maker")
     return told
 

@@ -143,7 +143,7 @@ class Language(unittest.TestCase):
                     self.assertIn(node.id, BUILTINS, name)
                 if isinstance(node, ast.Call):
                     if isinstance(node.func, ast.Attribute):
-                        self.assertIn(node.func.attr, METHODS, name)
+                        self.assertIn(node.func.attr, METHODS + sorted(own), name)
                     else:
                         # What is called is known by name: nothing that was passed on is called.
                         self.assertIn(node.func.id, own | known, name)
