@@ -54,23 +54,24 @@ def renamed_binder(tree, path, word):
     need_bare(tree)
     need_binder(tree, path)
     need_word(word)
-    return renamed_at(tree, (), {place: True for place in places_meaning(tree, path)}, (word, ()))
+    return renamed_at(tree, (), {place: (word, ()) for place in places_meaning(tree, path)})
 
 
-def renamed_at(part, path, places, name):
-    """The part at a path, the names at these places having become another one."""
-    whole = with_parts(part, [renamed_at(kid, path + (at,), places, name) for at, kid in enumerate(parts_in(part))])
+def renamed_at(part, path, names):
+    """The part at a path, the names at some places having become others, told by place."""
+    whole = with_parts(part, [renamed_at(kid, path + (at,), names) for at, kid in enumerate(parts_in(part))])
     if whole[0] == "maker":
-        rows = [(renamed_pattern(row[0], path + (at,), places, name), row[1]) for at, row in enumerate(whole[2])]
+        rows = [(renamed_pattern(row[0], path + (at,), names), row[1]) for at, row in enumerate(whole[2])]
         whole = (whole[0], whole[1], tuple(rows), whole[3])
-    if (path, 0) in places:
-        return (whole[0], name, *whole[2:])
+    if (path, 0) in names:
+        return (whole[0], names[(path, 0)], *whole[2:])
     return whole
 
 
-def renamed_pattern(pattern, path, places, name):
-    """The pattern of the row whose form is at a path, the names at these places having become another one."""
-    return tuple([("word", name) if (path, 1 + at) in places else piece for at, piece in enumerate(pattern)])
+def renamed_pattern(pattern, path, names):
+    """The pattern of the row whose form is at a path, the names at some places having become others."""
+    told = [(piece, (path, 1 + at)) for at, piece in enumerate(pattern)]
+    return tuple([("word", names[place]) if place in names else piece for piece, place in told])
 
 
 def keeps_meanings(tree, path, word):

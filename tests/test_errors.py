@@ -73,6 +73,13 @@ GOOD_VALUES = {(name, at, repr(value)) for names, at, values in (
     (("piece_numbers", "taken_by", "refused_at", "is_wider"), 0, [(), (("amount", 1),)]),
     (("is_wider", "taken_by", "refused_at", "row_taking"), 1, [(), (("amount", 1),)]),
     (("narrowed",), 1, [(1,)]),
+    (("shown_carelessly", "run_staged", "shown_stages", "run_code", "shown_by_code"), 1, [0, 1]),
+    (("made_with",), 2, [0, 1]),
+    (("made_with",), 1, [()]),
+    (("places_of", "renamed_binder", "keeps_meanings", "first_word"), 1, [(), (1,)]),
+    (("renamed_binder", "keeps_meanings"), 2, ["a"]),
+    (("is_simple", "sites_of", "is_harmless", "harm_tree", "is_harm_tree"), 0, []),
+    (("seen_words",), 3, [0, 1]),
 ) for name in names for value in values}
 
 
@@ -188,24 +195,79 @@ class Point2(ErrorCase):
             self.assertRaises(errors.InvalidPieces, widemakings.filled_by, row, value)
         self.assertRaises(errors.NotTaken, widemakings.filled_by, row, ())
 
+    def test_careless_renaming_and_harmless(self):
+        from namesapart import careless, harmless, renaming
+        work, row = (TREE, ()), ((("name", "n"),), ("given", ("fill", "n"), ("use", ("x", ()))))
+        self.check_errors(careless.bare_tree, (work,), ("InvalidWork",))
+        self.check_errors(careless.caught_names, (work,), ("InvalidWork",))
+        self.check_errors(careless.made_carelessly, (TREE,), ("InvalidTree",))
+        self.check_errors(careless.shown_carelessly, (TREE, 9), ("InvalidTree", "InvalidNumber"))
+        self.check_errors(renaming.places_of, (TREE, (1,)), ("InvalidTree", "InvalidPath"))
+        self.check_errors(renaming.renamed_binder, (TREE, (1, 1), "y"), ("InvalidTree", "InvalidPath", "InvalidWord"))
+        self.check_errors(renaming.keeps_meanings, (TREE, (1, 1), "y"), ("InvalidTree", "InvalidPath", "InvalidWord"))
+        self.check_errors(renaming.first_word, (TREE, (1, 1)), ("InvalidTree", "InvalidPath"))
+        for function in (harmless.is_simple, harmless.sites_of, harmless.is_harmless, harmless.harm_tree):
+            self.check_errors(function, (row,), ("InvalidRow",))
+        self.check_errors(harmless.is_harm_tree, (row, TREE), ("InvalidRow", None))
+
+    def test_staged(self):
+        from namesapart import codemakers, stageruns, stagetrees
+        staged = ("code", ("given", "x", ("use", "x")))
+        for function in (stagetrees.stages_in, stagetrees.stage_faults, stagetrees.is_calm, stagetrees.erased_tree):
+            self.check_errors(function, (staged,), ("InvalidStaged",))
+        self.check_errors(stagetrees.staged_of, (read_tree("(given x x)"),), ("InvalidTree",))
+        self.check_errors(stageruns.run_staged, (staged, 9), ("InvalidStaged", "InvalidNumber"))
+        self.check_errors(stageruns.shown_stages, (staged, 9), ("InvalidStaged", "InvalidNumber"))
+        self.check_errors(codemakers.made_with, (read_tree("(make one)"), (("one", staged),), 9),
+                          ("InvalidTree", "InvalidTable", "InvalidNumber"))
+
+    def test_modules(self):
+        from namesapart import modulelinks, moduleorders, modules, moduleshows
+        shelf = (("p", (), (), (), ()), ("q", (("p", 1, ()),), (), (), ()))
+        order = (("p", 1), ("q", 0))
+        for function in (modules.hindrance, moduleorders.places_needed, moduleorders.first_order, moduleorders.place_orders,
+                         moduleshows.clash_in, moduleshows.unlike_orders):
+            self.check_errors(function, (shelf, "q"), ("InvalidShelf", "InvalidModule"))
+        self.check_errors(moduleorders.is_place_order, (shelf, "q", order), ("InvalidShelf", "InvalidModule", None))
+        self.check_errors(moduleshows.order_shown, (shelf, "q", order), ("InvalidShelf", "InvalidModule", "InvalidPlaceOrder"))
+        self.check_errors(modulelinks.seen_words, (shelf, "q", "p", 2), ("InvalidShelf", "InvalidModule", "InvalidModule", "InvalidNumber"))
+        self.check_errors(modulelinks.linked_tree, (shelf, "q", TREE), ("InvalidShelf", "InvalidModule", "InvalidTree"))
+
+    def test_codes(self):
+        from namesapart import betterplaces, placecodes, placeruns
+        program = read_tree("(apply (given x (+ x 1)) 5)")
+        code = placecodes.code_of(program)
+        self.check_errors(placecodes.code_of, (program,), ("InvalidTree",))
+        for function in (placecodes.count_lines, placecodes.live_places, betterplaces.better_steps, betterplaces.best_code):
+            self.check_errors(function, (code,), ("InvalidCode",))
+        self.check_errors(placeruns.run_code, (code, 9), ("InvalidCode", "InvalidNumber"))
+        self.check_errors(placeruns.shown_by_code, (TREE, 9), ("InvalidTree", "InvalidNumber"))
+        self.check_errors(betterplaces.bettered, (code, ("put", 0, (2,))), ("InvalidCode", "InvalidStep"))
+        self.check_errors(betterplaces.is_bettering, (code, code, ()), ("InvalidCode", "InvalidCode", None))
+
     def test_predicates_take_any_value(self):
-        from namesapart import lots, lotworks, meanings, running, trees, widerows
+        from namesapart import codemakers, lots, lotworks, meanings, modules, placecodes, running, stagetrees, trees, widerows
         for asked in (trees.is_tree, trees.is_plain, meanings.is_work, running.is_program, lots.is_lotted,
-                      lotworks.is_lot_work, widerows.is_wide_pattern, widerows.is_wide_row):
+                      lotworks.is_lot_work, widerows.is_wide_pattern, widerows.is_wide_row, codemakers.is_table,
+                      stagetrees.is_staged, modules.is_module, modules.is_shelf, placecodes.is_code):
             for value in ODD_VALUES + (nested(300), [nested(299)], errors.ApartError("x"), ((),) * 1000):
                 patterns = ["()", "(('amount', 1),)"]
                 expected = asked is widerows.is_wide_pattern and repr(value) in patterns
+                expected = expected or asked is codemakers.is_table and value == ()
                 self.assertIs(asked(value), expected, f"{asked.__name__}({value!r:.100})")
 
     def test_lists_are_new(self):
-        from namesapart import lotplain, lostrows, makings, meanings, trees, widerows
+        from namesapart import betterplaces, careless, harmless, lotplain, lostrows, makings, meanings, placecodes
+        from namesapart import stagetrees, trees, widerows
         work = (TREE, ())
         pattern = (("any", "a"),)
         rows = ((pattern, ("amount", 1)), (pattern, ("amount", 1)))
         for function, given in ((trees.parts_of, TREE), (trees.all_paths, TREE), (trees.words_in, TREE),
                                 (meanings.free_words, (read_tree("x"), ())), (makings.outermost_uses, work),
                                 (lotplain.agreeing_manners, TREE), (widerows.piece_numbers, pattern),
-                                (lostrows.lost_rows, rows)):
+                                (lostrows.lost_rows, rows), (careless.caught_names, work), (harmless.sites_of, ((), ("use", ("x", ())))),
+                                (stagetrees.stages_in, ("code", ("amount", 1))), (stagetrees.stage_faults, ("amount", 1)),
+                                (betterplaces.better_steps, placecodes.code_of(read_tree("(+ 1 1)")))):
             first = function(given)
             kept = list(first)
             self.assertIs(type(first), list)

@@ -8,7 +8,8 @@ from pathlib import Path
 FOLDER = Path(__file__).resolve().parent
 MODULES = ("errors", "trees", "texts", "meanings", "makings", "plain", "running", "lots", "lotworks", "lotplain",
            "widerows", "widemakings", "lostrows", "careless", "renaming", "harmless", "stagetrees", "stageruns",
-           "codemakers")
+           "codemakers", "modules", "moduleorders", "moduleshows", "modulelinks", "placecodes", "placeruns",
+           "betterplaces")
 
 
 class Examples(unittest.TestCase):
