@@ -1,7 +1,6 @@
 """How codes are run, line by line.
 
-Values are ("amount", amount) and ("function", block, values). A frame is a list of the lines of a stretch, of the
-index of the next one, of the values at its places, and of its last place.
+Values are ("amount", amount) and ("function", block, values); the values at the places of a frame stand in a list.
 """
 
 from namesapart.errors import InvalidNumber
@@ -44,7 +43,7 @@ class Frame:
     def __init__(self, stretch, values):
         self.lines = stretch[0]
         self.at = 0
-        self.values = values
+        self.held = values
         self.last = stretch[1]
 
 
@@ -55,14 +54,14 @@ def run_lines(code, most):
     while True:
         frame = frames[-1]
         if frame.at == len(frame.lines):
-            value = frame.values[frame.last]
+            value = frame.held[frame.last]
             frames.pop()
             if not frames:
                 return (shown_value(value), done)
-            frames[-1].values.append(value)
+            frames[-1].held.append(value)
         else:
             line = frame.lines[frame.at]
-            reason = stuck_reason(line, frame.values)
+            reason = stuck_reason(line, frame.held)
             if reason is not None:
                 return (("stuck", reason), done)
             if done >= most:
@@ -95,7 +94,7 @@ def stuck_reason(line, values):
 
 def begin_line(code, frames, line):
     """Does a line that is not stuck, or begins with the stretch that it does."""
-    values = frames[-1].values
+    values = frames[-1].held
     kind = line[0]
     if kind == "amount":
         values.append(line)

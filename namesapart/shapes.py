@@ -45,15 +45,15 @@ ITEMS = {
 
 
 def parts_in(tree):
-    """The trees and forms that stand directly in a tree, in order."""
-    kind = tree[0]
-    if kind in FIRST_PART:
-        return list(tree[FIRST_PART[kind]:])
-    if kind == "make":
-        return list(tree[2])
-    if kind == "maker":
-        return [form for _, form in tree[2]] + [tree[3]]
-    return []
+    """The tuple of the trees and forms that stand directly in a tree, in order."""
+    first = FIRST_PART.get(tree[0])
+    if first is not None:
+        return tree[first:]
+    if tree[0] == "make":
+        return tree[2]
+    if tree[0] == "maker":
+        return (*[form for _, form in tree[2]], tree[3])
+    return ()
 
 
 def with_parts(tree, kids):

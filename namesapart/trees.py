@@ -65,7 +65,7 @@ def tree_depth(tree):
 def parts_of(tree):
     """The list of the parts of a tree, those of rows being their forms."""
     need_tree(tree)
-    return parts_in(tree)
+    return list(parts_in(tree))
 
 
 def part_at(tree, path):

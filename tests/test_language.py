@@ -19,6 +19,8 @@ BARRED_NODES = (ast.GeneratorExp, ast.Lambda, ast.Try, ast.Global, ast.Nonlocal,
 BARRED_NAMES = """register mro elements open input law version_info with_traceback add_note attrgetter breakpoint builtins
     compile copyright credits delattr dir eval exec exit gc getattr globals hasattr help id importlib license locals
     methodcaller os quit setattr super type vars sys format hash next map iter""".split()
+BARRED_ATTRIBUTES = """items keys values pop update append clear extend insert remove reverse setdefault sort args encode
+    decode hex fromhex format mro as_integer_ratio bit_count conjugate from_bytes is_integer to_bytes""".split()
 BARRED_WORDS = """type typing typing_extensions enum Enum IntEnum StrEnum Flag IntFlag Generic Protocol ABC ABCMeta
     namedtuple NamedTuple TypedDict TYPE_CHECKING abstractmethod""".split()
 
@@ -147,6 +149,17 @@ class Language(unittest.TestCase):
                     else:
                         # What is called is known by name: nothing that was passed on is called.
                         self.assertIn(node.func.id, own | known, name)
+
+    def test_attributes(self):
+        for name, tree in parsed():
+            for node in ast.walk(tree):
+                if isinstance(node, ast.Attribute) and isinstance(node.ctx, ast.Store):
+                    self.assertNotIn(node.attr, BARRED_ATTRIBUTES, name)
+                    self.assertIsInstance(node.value, ast.Name)
+                if isinstance(node, ast.ClassDef):
+                    methods = [inner.name for inner in node.body if isinstance(inner, ast.FunctionDef)]
+                    self.assertEqual(len(methods), len(set(methods)))
+                    self.assertFalse(set(methods) & set(METHODS + BARRED_ATTRIBUTES), (name, node.name))
 
     def test_barred_words(self):
         for name, tree in parsed():
