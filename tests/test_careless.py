@@ -464,7 +464,7 @@ class Points24And25(unittest.TestCase):
         for text in ("(maker m (row () x) (make m))", "(maker m (row () x) (given x (+ (make m) (make m))))",
                      "(maker m (row () y) (given y (make m)))", "(maker m (row () x) (row () 1) (given x (make m)))",
                      "(maker m (row () x) (given x (make m 1)))", "(maker m (row () x) (given x (make k)))",
-                     "(maker m (row () x) (given x x))", "(given x 1)", "(maker m (row () x) (given x@1 (make m)))",
+                     "(maker m (row () x) (given x x))", "(maker m (row () x) (given x (+ y@1 (make m))))", "(given x 1)", "(maker m (row () x) (given x@1 (make m)))",
                      "(maker m (row () x) (maker k (row () 1) (given x (make m))))",
                      "(maker m (row () x) (given y (make m)))"):
             self.assertFalse(is_harm_tree(row, read_tree(text)), text)

@@ -418,6 +418,7 @@ class Points37And71(unittest.TestCase):
                      ("same", 0, (1,)), ["chosen", 0, (1,)], ("chosen", 1, (1,)), ("chosen", 0, (1, 0, 0)), ("chosen", 0, (1,), 0), ("chosen",)):
             self.assertRaises(InvalidStep, bettered, code, step)
             self.assertIs(is_bettering(code, code, (step,)), False)
+            self.assertIs(is_bettering(code, bettered(code, ("chosen", 0, (1,))), (step,)), False)
 
     def test_better_steps_leave_the_end(self):
         kinds = {}

@@ -390,6 +390,8 @@ class Points29And64(unittest.TestCase):
             self.assertEqual(self.made("(make m)", (("m", program),)), ("stopped", "m", end))
         self.assertEqual(self.made("(given x (make m x))", (("m", given("a", ("run", use("a")))),)), ("stopped", "m", ("wanting", "x")))
         self.assertEqual(self.made("(make m (+ 1 2))", (("m", given("a", ("run", use("a")))),)), ("stopped", "m", ("value", 3)))
+        self.assertEqual(self.made("(make m 1 2)", (("m", ("run", ONE)),)), ("stopped", "m", ("stuck", "run")), "ahead of all pieces")
+        self.assertEqual(self.made("(make m 1 2)", (("m", ("code", ONE)),)), ("stopped", "m", ("stuck", "apply")))
         self.assertEqual(self.made("(make m (+ 1 2))", (("m", given("a", ("lift", ("run", use("a"))))),)), ("made", "3"))
 
     def test_most_steps_of_each_use(self):
