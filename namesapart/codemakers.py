@@ -49,7 +49,7 @@ def made_with(tree, table, most):
     need_makerless(tree)
     need_table(table)
     need_steps(most)
-    programs = {word: program for word, program in table}
+    programs = dict(table)
     whole = numbered_tree(tree)
     many = 0
     number = 0
