@@ -188,10 +188,10 @@ def brought_by_lots(lot_work, path, row):
     pieces = part_by(tree, path)[2]
     binders = binders_outside(form)
     if brings:
-        marks += 1
+        marks = marks + 1
         form = marked_tree(form, (marks,))
     if hands:
-        marks += 1
+        marks = marks + 1
         pieces = tuple([marked_tree(piece, (marks,)) for piece in pieces])
     brought = filled_form(form, fitted_pieces(pattern, pieces))
     # A great tree is left here, as marks would be put on each of its names alone.
@@ -199,7 +199,7 @@ def brought_by_lots(lot_work, path, row):
         return None
     if binds:
         brought = bound_tree(brought, binders, marks)
-        marks += len(binders)
+        marks = marks + len(binders)
     # The marks put ascend, and none is greater than the last one.
     if marks > MOST_MARKS or any([len(lot) > LOT_BOUNDS[0] for _, lot in all_names(brought)]):
         return None

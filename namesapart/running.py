@@ -70,7 +70,7 @@ def run_within(program, most):
     done = 0
     result = stepped_within(program)
     while result[0] == "step" and done < most:
-        done += 1
+        done = done + 1
         result = stepped_within(result[1])
     if result[0] == "step":
         return (("more",), done)
@@ -91,12 +91,14 @@ def is_value(tree):
 
 
 def stepped(program):
-    """As step_of, but for the bounds of trees."""
+    """As step_of, but for the bounds of trees; of an open tree, the word to be asked, where a use comes first."""
     kind = program[0]
     if kind == "amount":
         return ("value", program[1])
     if kind == "given":
         return ("value", "given")
+    if kind == "use":
+        return ("asks", program[1][0])
     kids = parts_in(program)
     for at in worked_ahead(kind):
         if not is_value(kids[at]):

@@ -88,7 +88,7 @@ def opens_too_many(text):
     many = 0
     for sign in text:
         if sign == "(":
-            many += 1
+            many = many + 1
         elif sign == ")" and many > 0:
             many -= 1
         if many > MOST_OPEN:

@@ -72,7 +72,7 @@ def is_wide_shape(value, single, many):
     size = 0
     while todo:
         part, place, depth = todo.pop()
-        size += 1
+        size = size + 1
         if size > MOST_WIDE_SIZE or depth > MOST_WIDE_DEPTH:
             return False
         holes = {**single, **many} if place in ("run", "step") else single
@@ -209,10 +209,10 @@ def held_pieces(pattern, pieces):
         if piece[0] == "each":
             for _ in range(turns):
                 rounds.append(held_here(run, pieces[at:at + len(run)]))
-                at += len(run)
+                at = at + len(run)
         else:
             single.update(held_here((piece,), pieces[at:at + 1]))
-            at += 1
+            at = at + 1
     return (single, rounds)
 
 

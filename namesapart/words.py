@@ -74,5 +74,5 @@ def first_words(many, taken):
         told = spelled(number)
         if is_word(told) and told not in taken:
             found.append(told)
-        number += 1
+        number = number + 1
     return found

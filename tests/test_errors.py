@@ -80,6 +80,22 @@ GOOD_VALUES = {(name, at, repr(value)) for names, at, values in (
     (("renamed_binder", "keeps_meanings"), 2, ["a"]),
     (("is_simple", "sites_of", "is_harmless", "harm_tree", "is_harm_tree"), 0, []),
     (("seen_words",), 3, [0, 1]),
+    (("worked_out", "deed_done", "train_done", "are_apart_in", "shown_late", "shown_early", "unlike_tree"), 0,
+     [(), (("amount", 1),)]),
+    (("train_done", "shown_late", "shown_early", "unlike_tree"), 1, [()]),
+    (("shown_early", "unlike_tree"), 2, [0, 1]),
+    (("shown_early", "unlike_tree"), 3, [(), ("amount",), ("use", "x")]),
+    (("exchanged_orders", "are_exchanged"), 0, [()]),
+    (("are_exchanged",), 1, [()]),
+    (("unlike_store", "early_paper"), 2, [0, 1]),
+    (("early_steps", "early_done", "is_early_paper", "early_paper"), 1, [(), (("amount", 1),)]),
+    (("with_library", "meant_plainly", "makings_told", "shown_directly"), 0, [()]),
+    (("shown_directly",), 2, [0, 1]),
+    (("made_further",), 1, [(), ((), (), ())]),
+    (("taken_back", "parts_from"), 1, [0, 1]),
+    (("origin_of", "trail_of"), 1, [(), (1,)]),
+    (("stops_at", "led_to_stop"), 1, [()]),
+    (("led_to_stop",), 2, [0, 1]),
 ) for name in names for value in values}
 
 
@@ -245,20 +261,96 @@ class Point2(ErrorCase):
         self.check_errors(betterplaces.bettered, (code, ("put", 0, (2,))), ("InvalidCode", "InvalidStep"))
         self.check_errors(betterplaces.is_bettering, (code, code, ()), ("InvalidCode", "InvalidCode", None))
 
+    def test_deeds(self):
+        from namesapart import deeds, early, exchanges, late
+        store, tree = (("x", 3),), read_tree("(+ x 1)")
+        deed, three = ("x", tree), ("InvalidStore", "InvalidDeeds", "InvalidNumber", "InvalidWords", "InvalidTree")
+        self.check_errors(deeds.worked_out, (store, tree), ("InvalidStore", "InvalidTree"))
+        self.check_errors(deeds.deed_done, (store, deed), ("InvalidStore", "InvalidDeed"))
+        self.check_errors(deeds.train_done, (store, (deed,)), ("InvalidStore", "InvalidDeeds"))
+        self.check_errors(exchanges.words_asked, (deed,), ("InvalidDeed",))
+        self.check_errors(exchanges.are_apart, (deed, deed), ("InvalidDeed", "InvalidDeed"))
+        self.check_errors(exchanges.are_apart_in, (store, deed, deed), ("InvalidStore", "InvalidDeed", "InvalidDeed"))
+        self.check_errors(exchanges.exchanged_orders, ((deed,),), ("InvalidDeeds",))
+        self.check_errors(exchanges.are_exchanged, ((deed,), (deed,)), ("InvalidDeeds", "InvalidDeeds"))
+        self.check_errors(exchanges.unlike_store, (deed, deed, 2), ("InvalidDeed", "InvalidDeed", "InvalidNumber"))
+        self.check_errors(early.early_steps, (tree, store), ("InvalidTree", "InvalidStore"))
+        self.check_errors(early.early_done, (tree, store, ("known", (0,))), ("InvalidTree", "InvalidStore", "InvalidStep"))
+        self.check_errors(early.is_early_paper, (tree, store, ()), ("InvalidTree", "InvalidStore", None))
+        self.check_errors(early.early_paper, (tree, store, 9), ("InvalidTree", "InvalidStore", "InvalidNumber"))
+        self.check_errors(late.shown_late, (store, (deed,), tree), ("InvalidStore", "InvalidDeeds", "InvalidTree"))
+        self.check_errors(late.shown_early, (store, (deed,), 1, ("x",), tree), three)
+        self.check_errors(late.unlike_tree, (store, (deed,), 1, ("x",)), three[:-1])
+
+    def test_clients(self):
+        from namesapart import directly, library, plainuses
+        lot, client = ("nay",), read_tree("(make nay 1)")
+        for function in (library.library_rows, library.brought_by):
+            self.check_errors(function, ("nay",), ("InvalidWord",))
+        for function in (library.with_library, plainuses.meant_plainly, plainuses.makings_told):
+            self.check_errors(function, (lot, client), ("InvalidLot", "InvalidTree"))
+        self.check_errors(directly.shown_directly, (lot, client, 9), ("InvalidLot", "InvalidTree", "InvalidNumber"))
+
+    def test_journeys(self):
+        from namesapart import lifejourneys, lifeorigins, lifestops, lifetexts
+        journey = (TREE, ((1, 1, 1),))
+        for function in (lifejourneys.work_of, lifejourneys.works_of, lifejourneys.next_use, lifetexts.journey_text):
+            self.check_errors(function, (journey,), ("InvalidJourney",))
+        self.check_errors(lifejourneys.made_further, ((TREE, ()), ((1, 1, 1),)), ("InvalidJourney", "InvalidOrder"))
+        self.check_errors(lifejourneys.taken_back, (journey, 1), ("InvalidJourney", "InvalidNumber"))
+        for function in (lifeorigins.origin_of, lifeorigins.trail_of):
+            self.check_errors(function, (journey, (0,)), ("InvalidJourney", "InvalidPath"))
+        self.check_errors(lifeorigins.parts_from, (journey, 1), ("InvalidJourney", "InvalidNumber"))
+        self.check_errors(lifestops.stops_at, (journey, (("end",),)), ("InvalidJourney", "InvalidStops"))
+        self.check_errors(lifestops.led_to_stop, (journey, (("end",),), 9), ("InvalidJourney", "InvalidStops", "InvalidNumber"))
+        for value in ODD_VALUES + (nested(300), ["1"], A + "\n", "x\n0"):
+            if value not in ("a", "(+ 1 2)"):
+                self.assertRaises(errors.InvalidJourney, lifetexts.read_journey, value)
+
     def test_predicates_take_any_value(self):
-        from namesapart import codemakers, lots, lotworks, meanings, modules, placecodes, running, stagetrees, trees, widerows
+        from namesapart import codemakers, deeds, lifejourneys, lifestops, lots, lotworks, meanings, modules, placecodes
+        from namesapart import running, stagetrees, trees, widerows
+        from namesapart.lifebenches import Bench
+        from namesapart.lifevalues import Way
+        way, bench = Way((TREE, ())), Bench((TREE, ()))
+        empty = (widerows.is_wide_pattern, codemakers.is_table, deeds.is_store)
         for asked in (trees.is_tree, trees.is_plain, meanings.is_work, running.is_program, lots.is_lotted,
                       lotworks.is_lot_work, widerows.is_wide_pattern, widerows.is_wide_row, codemakers.is_table,
-                      stagetrees.is_staged, modules.is_module, modules.is_shelf, placecodes.is_code):
-            for value in ODD_VALUES + (nested(300), [nested(299)], errors.ApartError("x"), ((),) * 1000):
-                patterns = ["()", "(('amount', 1),)"]
-                expected = asked is widerows.is_wide_pattern and repr(value) in patterns
-                expected = expected or asked is codemakers.is_table and value == ()
+                      stagetrees.is_staged, modules.is_module, modules.is_shelf, placecodes.is_code, deeds.is_store,
+                      deeds.is_open, deeds.is_deed, lifejourneys.is_journey, lifestops.is_stop):
+            for value in ODD_VALUES + (nested(300), [nested(299)], errors.ApartError("x"), ((),) * 1000, way, bench,
+                                       (way, bench), (way,), ("amount", way), ("use", (bench, ())), ((way, 1),),
+                                       (TREE, (way,)), (TREE, ((way,),)), ("size", bench), ("x", way)):
+                expected = asked in empty and isinstance(value, tuple) and len(value) == 0
+                expected = expected or asked in (empty[0], empty[2]) and repr(value) == "(('amount', 1),)"
                 self.assertIs(asked(value), expected, f"{asked.__name__}({value!r:.100})")
 
+    def test_objects_are_wrong_arguments_as_others_are(self):
+        from namesapart.lifebenches import Bench
+        from namesapart.lifevalues import Way
+        from namesapart import betterplaces, deeds, early, library, lifejourneys, lostrows, placecodes, texts, trees
+        code = placecodes.code_of(read_tree("(+ 1 1)"))
+        row = ((("any", "a"),), ("fill", "a"))
+        for thing in (Way((TREE, ())), Bench((TREE, ()))):
+            for value in (thing, (thing,), (thing, thing), (thing, thing, thing)):
+                self.assertRaises(errors.InvalidTree, trees.tree_size, value)
+                self.assertRaises(errors.InvalidText, texts.read_tree, value)
+                self.assertRaises(errors.InvalidPath, trees.part_at, TREE, value)
+                self.assertRaises(errors.InvalidStep, betterplaces.bettered, code, value)
+                self.assertRaises(errors.InvalidStep, early.early_done, read_tree("x"), (), value)
+                self.assertRaises(errors.InvalidDeeds, deeds.train_done, (), value)
+                self.assertRaises(errors.InvalidWord, library.library_rows, value)
+                self.assertRaises(errors.InvalidLot, library.with_library, value, read_tree("1"))
+                self.assertRaises(errors.InvalidJourney, lifejourneys.work_of, value)
+                self.assertRaises(errors.InvalidOrder, lifejourneys.made_further, (TREE, ()), value)
+                self.assertIs(early.is_early_paper(read_tree("x"), (), value), False)
+                self.assertIs(betterplaces.is_bettering(code, code, value), False)
+                self.assertIs(lostrows.is_lost_paper((row, row), 1, value), False)
+
     def test_lists_are_new(self):
-        from namesapart import betterplaces, careless, harmless, lotplain, lostrows, makings, meanings, placecodes
-        from namesapart import stagetrees, trees, widerows
+        from namesapart import betterplaces, careless, exchanges, harmless, library, lifejourneys, lotplain, lostrows, makings
+        from namesapart import meanings, placecodes, stagetrees, trees, widerows
+        deed = ("x", read_tree("(+ x 1)"))
         work = (TREE, ())
         pattern = (("any", "a"),)
         rows = ((pattern, ("amount", 1)), (pattern, ("amount", 1)))
@@ -267,7 +359,9 @@ class Point2(ErrorCase):
                                 (lotplain.agreeing_manners, TREE), (widerows.piece_numbers, pattern),
                                 (lostrows.lost_rows, rows), (careless.caught_names, work), (harmless.sites_of, ((), ("use", ("x", ())))),
                                 (stagetrees.stages_in, ("code", ("amount", 1))), (stagetrees.stage_faults, ("amount", 1)),
-                                (betterplaces.better_steps, placecodes.code_of(read_tree("(+ 1 1)")))):
+                                (betterplaces.better_steps, placecodes.code_of(read_tree("(+ 1 1)"))),
+                                (exchanges.words_asked, deed), (exchanges.exchanged_orders, (deed,)),
+                                (library.brought_by, "sum"), (lifejourneys.works_of, (TREE, ((1, 1, 1),)))):
             first = function(given)
             kept = list(first)
             self.assertIs(type(first), list)

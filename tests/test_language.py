@@ -13,12 +13,17 @@ METHODS = """append clear copy count endswith extend find get index insert isaln
     items join keys ljust lower lstrip partition pop remove replace reverse rfind rjust rpartition rsplit rstrip
     setdefault split splitlines startswith strip update upper values zfill bit_length isascii""".split()
 BUILTINS = """len range enumerate zip min max sum abs sorted reversed int str bool list tuple dict set isinstance ord
-    repr any all divmod Exception ValueError TypeError KeyError IndexError LookupError""".split()
-BARRED_NODES = (ast.GeneratorExp, ast.Lambda, ast.Try, ast.Global, ast.Nonlocal, ast.With, ast.AsyncFunctionDef, ast.Await,
-                ast.Yield, ast.YieldFrom, ast.NamedExpr, ast.Match, ast.AnnAssign, ast.Import, ast.Delete)
+    repr any all divmod Exception ValueError TypeError KeyError IndexError LookupError property classmethod""".split()
+BARRED_NODES = (ast.GeneratorExp, ast.Lambda, ast.Global, ast.Nonlocal, ast.With, ast.AsyncFunctionDef, ast.Await,
+                ast.YieldFrom, ast.NamedExpr, ast.Match, ast.AnnAssign, ast.Import, ast.Delete)
 BARRED_NAMES = """register mro elements open input law version_info with_traceback add_note attrgetter breakpoint builtins
     compile copyright credits delattr dir eval exec exit gc getattr globals hasattr help id importlib license locals
-    methodcaller os quit setattr super type vars sys format hash next map iter""".split()
+    methodcaller os quit setattr super type vars sys format hash map iter""".split()
+
+# The methods that the language itself calls, which the document asks for.
+OPERATORS = """__add__ __iadd__ __lshift__ __rshift__ __getitem__ __contains__ __iter__ __len__ __bool__ __str__
+    __eq__""".split()
+CHANGING = "append clear extend insert pop remove reverse setdefault update sort add discard".split()
 BARRED_ATTRIBUTES = """items keys values pop update append clear extend insert remove reverse setdefault sort args encode
     decode hex fromhex format mro as_integer_ratio bit_count conjugate from_bytes is_integer to_bytes""".split()
 BARRED_WORDS = """type typing typing_extensions enum Enum IntEnum StrEnum Flag IntFlag Generic Protocol ABC ABCMeta
@@ -68,8 +73,9 @@ class Language(unittest.TestCase):
             for node in ast.walk(tree):
                 self.assertNotIsInstance(node, BARRED_NODES, (name, getattr(node, "lineno", 0)))
                 if isinstance(node, (ast.FunctionDef, ast.ClassDef)):
-                    self.assertEqual(node.decorator_list, [])
-                    self.assertTrue(ast.get_docstring(node) or node.name == "__init__", node.name)
+                    told = [word.id for word in node.decorator_list]
+                    self.assertIn(told, ([], ["property"], ["classmethod"]), node.name)
+                    self.assertTrue(ast.get_docstring(node) or node.name in ("__init__", "__iter__"), node.name)
                 if isinstance(node, ast.Constant):
                     self.assertNotIsInstance(node.value, (float, bytes, complex))
                     if isinstance(node.value, str):
@@ -126,11 +132,12 @@ class Language(unittest.TestCase):
         known = set(dir(builtins)) - {"_"}
         for name, tree in parsed():
             outer = set(imported_names(tree)) | {node.name for node in tree.body if hasattr(node, "name")}
+            self.assertNotIn("next", outer)
             for node in functions_in(tree):
                 self.assertFalse(set(bound_names(node)) & (known | outer), (name, node.name))
                 for told in bound_names(node) + [node.name]:
                     self.assertNotIn(told, BARRED_NAMES, name)
-                    self.assertTrue(re.match(r"^(_|[a-z][a-z0-9_]*|__init__)$", told), told)
+                    self.assertTrue(re.match(r"^(_|[a-z][a-z0-9_]*)$", told) or told in OPERATORS + ["__init__"], told)
                     self.assertFalse(told.startswith(("_wall", "_pe_")))
             for node in ast.walk(tree):
                 if isinstance(node, ast.Name) and isinstance(node.ctx, ast.Load):
@@ -147,8 +154,87 @@ class Language(unittest.TestCase):
                     if isinstance(node.func, ast.Attribute):
                         self.assertIn(node.func.attr, METHODS + sorted(own), name)
                     else:
-                        # What is called is known by name: nothing that was passed on is called.
-                        self.assertIn(node.func.id, own | known, name)
+                        # What is called is known by name: nothing that was passed on is called, but by attempt.
+                        self.assertIn(node.func.id, own | known | {"action", "cls"}, name)
+
+    def test_tries(self):
+        """Own errors are caught, by name; what comes at last only assigns names to attributes, asked by "is None"."""
+        own = {node.name for name, tree in parsed() if name == "errors.py" for node in tree.body if hasattr(node, "name")}
+        for name, tree in parsed():
+            for node in ast.walk(tree):
+                if not isinstance(node, ast.Try):
+                    continue
+                for handler in node.handlers:
+                    told = handler.type.elts if isinstance(handler.type, ast.Tuple) else [handler.type]
+                    self.assertLessEqual({word.id for word in told}, own, name)
+                for step in node.finalbody:
+                    self.assertIsInstance(step, ast.If)
+                    self.assertRegex(ast.unparse(step.test), r"^[a-z]+ is None$")
+                    for inner in step.body:
+                        self.assertRegex(ast.unparse(inner), r"^self\._[a-z]+ = [a-z]+$")
+
+    def test_yields(self):
+        found = [(name, node.name) for name, tree in parsed() for node in functions_in(tree)
+                 if any(isinstance(inner, ast.Yield) for inner in ast.walk(node))]
+        self.assertEqual(found, [("lifebenches.py", "lines")])
+        names = [node.name for _, tree in parsed() for node in functions_in(tree)]
+        self.assertEqual(names.count("lines"), 1)
+
+    def test_operators_and_properties_change_nothing(self):
+        homes = {}
+        for name, tree in parsed():
+            for node in tree.body:
+                if isinstance(node, (ast.FunctionDef, ast.ClassDef)):
+                    homes[(name, node.name)] = node
+                if isinstance(node, ast.ClassDef):
+                    homes.update({(name, inner.name): inner for inner in functions_in(node) if inner.name == "__init__"})
+        todo = []
+        for name, tree in parsed():
+            for node in functions_in(tree):
+                is_property = [word.id for word in node.decorator_list] == ["property"]
+                if is_property or node.name in OPERATORS and node.name not in ("__iadd__", "__iter__"):
+                    todo.append((name, node))
+        self.assertEqual(len(todo), 4 + 9 + 3 + 3)
+        seen = []
+        trees = dict(parsed())
+        while todo:
+            name, node = todo.pop()
+            if (name, node.name) in seen and node.name not in OPERATORS:
+                continue
+            seen.append((name, node.name))
+            self.check_pure(name, node)
+            imported = {alias.name: one.module.split(".")[1] + ".py" for one in trees[name].body
+                        if isinstance(one, ast.ImportFrom) for alias in one.names}
+            for inner in ast.walk(node):
+                if isinstance(inner, ast.Call) and isinstance(inner.func, ast.Name):
+                    home = (imported.get(inner.func.id, name), inner.func.id)
+                    if isinstance(homes.get(home), ast.ClassDef):
+                        home = (home[0], "__init__")
+                    if home in homes:
+                        todo.append((home[0], homes[home]))
+        self.assertGreater(len(seen), 50)
+
+    def check_pure(self, name, node):
+        """Changes nothing but lists and the like that it creates itself."""
+        told = (name, node.name)
+        made = {}
+        for inner in ast.walk(node):
+            self.assertNotIsInstance(inner, (ast.AugAssign, ast.Delete, ast.Yield, ast.Lambda, ast.Nonlocal), told)
+            if isinstance(inner, ast.Assign) and isinstance(inner.targets[0], ast.Name):
+                fresh = isinstance(inner.value, (ast.List, ast.ListComp, ast.Dict, ast.DictComp)) or (
+                    isinstance(inner.value, ast.Call) and ast.unparse(inner.value.func) in ("list", "dict", "sorted"))
+                made.setdefault(inner.targets[0].id, []).append(fresh)
+        for inner in ast.walk(node):
+            if isinstance(inner, ast.Attribute) and isinstance(inner.ctx, ast.Store):
+                self.assertEqual(node.name, "__init__", told)
+            changed = None
+            if isinstance(inner, ast.Subscript) and isinstance(inner.ctx, ast.Store):
+                changed = inner.value
+            if isinstance(inner, ast.Call) and isinstance(inner.func, ast.Attribute) and inner.func.attr in CHANGING:
+                changed = inner.func.value
+            if changed is not None:
+                self.assertIsInstance(changed, ast.Name, told)
+                self.assertTrue(made.get(changed.id) and all(made[changed.id]), told)
 
     def test_attributes(self):
         for name, tree in parsed():
