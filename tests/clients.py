@@ -64,9 +64,12 @@ class Clients:
         if chosen == 0 or left <= 1:
             return self.tree(left, bound)
         if chosen == 1:
-            return ("make", ("pair", ()), (self.tree(left - 1, bound), self.tree(left - 1, bound)))
+            return self.pair(left, bound)
         word = self.word()
         return ("given", (word, ()), self.tree(left - 1, bound + (word,)))
+
+    def pair(self, left, bound):
+        return ("make", ("pair", ()), (self.tree(left - 1, bound), self.tree(left - 1, bound)))
 
     def make(self, left, bound):
         picks = self.picks
@@ -77,11 +80,15 @@ class Clients:
         names = [self.word() for piece in shape if piece == "n"]
         inner = self.inner_scopes(word, shape, names, bound)
         pieces = []
+        if self.faults and picks.below(25) == 0:
+            pieces.append(("amount", 1))
         for at, piece in enumerate(shape):
             if piece == "n":
                 pieces.append(("use", (names[len([one for one in shape[:at] if one == "n"])], ())))
             elif piece != "e":
                 pieces.append(("use", (piece, ())))
+            elif word in ("left", "right") and left > 2 and picks.below(4):
+                pieces.append(self.pair(left - 1, inner[at]))
             elif word in ("left", "right") or word == "times" and at == 1:
                 pieces.append(self.function(left - 1, inner[at]))
             elif word in ("sum", "times") and at < 2 and picks.below(4):
