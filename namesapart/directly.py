@@ -1,8 +1,10 @@
 """What clients show, told directly: uses of makers of the library are worked out at once.
 
-Values are ("amount", amount), ("function", word, body, scope), ("pair", left, right), ("chooser", index), and
-("kept", index, value), which is a chooser applied to one value. A scope has values by words. Work is kept in a row
-of what is to be done, the next one last, and the values that come are kept in another row, until they are needed.
+Values are ("amount", amount), ("function", number), ("pair", number), ("chooser", index), and ("kept", number), a
+chooser applied to one value; what the numbered ones consist of is told by the numbers. A scope has values by words.
+Work is kept in a row of what is to be done, the next one last, and the values that come are kept in another row,
+until they are needed. What comes of applying a pair is told again without being worked out again, if nothing was
+counted on the way: where pairs of pairs are applied to one another, so much would be done else that is not counted.
 """
 
 from namesapart.errors import InvalidNumber
@@ -31,10 +33,18 @@ class Doer:
         self.counted = 0
         self.todo = []
         self.told = []
+        self.made = []
+        self.kept = {}
+        self.came = {}
 
     def plan(self, tasks):
         """Puts tasks ahead of all that is to be done, in order."""
         self.todo.extend(tasks[::-1])
+
+    def tell(self, kind, parts):
+        """Tells a new value that consists of these parts."""
+        self.told.append((kind, len(self.made)))
+        self.made.append(parts)
 
 
 def shown_directly(lot, client, most):
@@ -84,7 +94,7 @@ def task_done(doer, task):
         return summed(doer, task)
     if kind == "times":
         return repeated(doer)
-    return bound_or_paired(doer, task)
+    return bound_or_kept(doer, task)
 
 
 def worked(doer, tree, scope):
@@ -95,7 +105,7 @@ def worked(doer, tree, scope):
     elif kind == "use":
         doer.told.append(scope[tree[1][0]])
     elif kind == "given":
-        doer.told.append(("function", tree[1][0], tree[2], scope))
+        doer.tell("function", (tree[1][0], tree[2], scope))
     elif kind == "apply":
         doer.plan([("work", tree[1], scope), ("work", tree[2], scope), ("apply",)])
     elif kind == "reckon":
@@ -163,21 +173,41 @@ def counts_on(doer):
 
 def applied(doer, one, two):
     """Applies a value to another one."""
-    kind = one[0]
+    kind, number = one
     if kind == "amount":
         return ("stuck", "apply")
     if kind == "function":
         if not counts_on(doer):
             return ("more",)
-        doer.plan([("work", one[2], {**one[3], one[1]: two})])
+        word, body, scope = doer.made[number]
+        doer.plan([("work", body, {**scope, word: two})])
     elif kind == "pair":
-        doer.told.extend([two, one[1]])
-        doer.plan([("apply",), ("onto", one[2])])
+        paired(doer, one, two)
     elif kind == "chooser":
-        doer.told.append(("kept", one[1], two))
+        chosen(doer, number, two)
     else:
-        doer.told.append(one[2] if one[1] == 0 else two)
+        index, value = doer.made[number]
+        doer.told.append(value if index == 0 else two)
     return None
+
+
+def paired(doer, one, two):
+    """Applies a pair to a value: this to the left value, and what comes to the right one."""
+    if (one, two) in doer.came:
+        doer.told.append(doer.came[(one, two)])
+        return
+    left, right = doer.made[one[1]]
+    doer.told.extend([two, left])
+    doer.plan([("apply",), ("onto", right), ("keep", (one, two), doer.counted)])
+
+
+def chosen(doer, index, value):
+    """Applies a chooser to one value; what comes has the same number each time."""
+    if (index, value) in doer.kept:
+        doer.told.append(doer.kept[(index, value)])
+        return
+    doer.tell("kept", (index, value))
+    doer.kept[(index, value)] = doer.told[-1]
 
 
 def reckoned(doer, sign, one, two):
@@ -245,11 +275,15 @@ def repeated(doer):
     return None
 
 
-def bound_or_paired(doer, task):
-    """Binds the latest values to words, or makes a pair of them."""
+def bound_or_kept(doer, task):
+    """Binds the latest values to words, makes a pair of them, or keeps the latest one as what came of a pair."""
     if task[0] == "pair":
         right = doer.told.pop()
-        doer.told.append(("pair", doer.told.pop(), right))
+        doer.tell("pair", (doer.told.pop(), right))
+        return None
+    if task[0] == "keep":
+        if doer.counted == task[2]:
+            doer.came[task[1]] = doer.told[-1]
         return None
     _, words, body, scope = task
     inner = {**scope}

@@ -3,7 +3,7 @@
 from namesapart.errors import CannotMake, InvalidJourney, InvalidNumber, InvalidOrder
 from namesapart.makings import first_outermost, making_at, outermost_in
 from namesapart.meanings import MOST_MAKINGS
-from namesapart.shapes import is_path, part_by
+from namesapart.shapes import is_path
 from namesapart.trees import is_tree
 from namesapart.words import is_between, is_integer
 
@@ -44,8 +44,7 @@ def works_along(work, order):
 
 def work_behind(work, path):
     """The work behind the making at a path, or None if no outermost use stands there, or would be stopped."""
-    tree = work[0]
-    if not is_path(tree, path) or part_by(tree, path)[0] != "make" or path not in outermost_in(tree):
+    if not is_path(work[0], path) or path not in outermost_in(work[0]):
         return None
     result = making_at(work, path)
     return result[1] if result[0] == "made" else None

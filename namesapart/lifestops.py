@@ -12,7 +12,7 @@ MOST_STOPS = 12
 
 def is_stop(value):
     """Whether a value is a stop."""
-    if not isinstance(value, tuple) or not value or not isinstance(value[0], str):
+    if not isinstance(value, tuple) or not value:
         return False
     if len(value) == 1:
         return value[0] == "end"

@@ -387,7 +387,26 @@ class Point43(unittest.TestCase):
                 ("(apply (make pair 1 2) (make pair 3 4))", "apply")):
             self.assertEqual(shown(text), end, text)
 
-    def test_spread(self):
+    def test_pairs_of_pairs(self):
+        """Applying pairs is not counted, and comes to an end soon all the same; told again by functions of Python."""
+        choosers = {"left": lambda u: lambda v: u, "right": lambda u: lambda v: v}
+        for word, chooser in choosers.items():
+            for first, base in (("l", chooser), ("(apply l l)", chooser(chooser))):
+                text = f"(hold l (make {word} (given x x)) (hold b (make times N (given x (make pair x x)) {first}) (apply b b)))"
+                value = base
+                for many in range(1, 9):
+                    value = (lambda one: lambda two: two(one)(one))(value)
+                    came = value(value)
+                    self.assertEqual(shown(text.replace("N", str(many))), "given")
+                    told = text.replace("N", str(many)).replace("(apply b b)", "(apply (make pair 3 4) (apply b b))")
+                    try:
+                        end = came(3)(4)
+                    except TypeError:
+                        end = "apply"
+                    self.assertEqual(shown(told), "given" if callable(end) else end)
+                self.assertEqual(shown(text.replace("N", "90")), "given")
+
+    def test_sums(self):
         for text, end in (
                 ("(make sum i 4 (* i i))", 30), ("(make sum i 0 (apply 1 1))", 0), ("(make sum i 1 5)", 5),
                 ("(hold i 3 (make sum i i i))", 6), ("(make sum i (given x x) 1)", "test"), ("(make sum i (make pair 1 2) 1)", "test"),

@@ -69,6 +69,7 @@ class Point44(unittest.TestCase):
             self.assertIs(is_journey((read_tree(text), order)), False, (text, order))
         for value in ODD_VALUES + (nested(300), [read_tree(A), ()], (read_tree(A),), (read_tree(A), (), ())):
             self.assertIs(is_journey(value), False)
+            self.assertIs(is_journey((value, ())), False)
 
     def test_forty_makings(self):
         self.assertIs(is_journey(loop(40)), True)
