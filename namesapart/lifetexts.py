@@ -25,7 +25,7 @@ def path_text(path):
 def read_journey(value):
     """The journey that has this text, sign for sign."""
     journey = journey_told(value) if isinstance(value, str) else None
-    if journey is None or not is_journey(journey) or text_of_journey(journey) != value:
+    if not is_journey(journey) or text_of_journey(journey) != value:
         raise InvalidJourney("not the text of a journey")
     return journey
 
@@ -33,18 +33,15 @@ def read_journey(value):
 def journey_told(text):
     """The pair of a tree and of an order that a text tells, whether it is a journey or not, or None."""
     first, *lines_behind = text.split("\n")
-    order = [path_told(line) for line in lines_behind]
-    if any([path is None for path in order]):
-        return None
     try:
         tree = read_tree(first)
     except (InvalidText, InvalidTree):
         return None
-    return (tree, tuple(order))
+    return (tree, tuple([path_told(line) for line in lines_behind]))
 
 
 def path_told(line):
-    """The path that a line tells, or None."""
+    """The path that a line tells, or None, which is no path."""
     figures = line.split(" ") if line else []
     if not all([are_figures(item) for item in figures]):
         return None
