@@ -6,7 +6,7 @@ from namesapart.makings import fits_at
 from namesapart.meanings import words_free_in
 from namesapart.plain import plain_or_wanting
 from namesapart.running import put_for, reckoned_amount
-from namesapart.shapes import all_names, is_path, part_by, parts_in, placed_parts, replaced_part
+from namesapart.shapes import all_names, is_path, part_by, placed_parts, replaced_part
 from namesapart.words import NAME_BOUNDS, is_amount
 
 MOST_STEPS_TOLD = 100
@@ -14,9 +14,6 @@ STEP_WORDS = ("bind", "choose", "drop", "fold", "known", "put")
 
 # What can be put in the place of a name without being worked out first.
 READY = ("amount", "given", "use")
-
-# What has no part that is worked out where it stands.
-CLOSED = ("amount", "given", "use")
 
 
 def early_steps(open_tree, known):
@@ -56,7 +53,7 @@ def is_early_paper(open_tree, known, value):
 
 
 def early_paper(open_tree, known, most):
-    """Any early paper of at most so many steps, that goes on as long as there is a step that needs no "bind"."""
+    """Any early paper of at most so many steps, that goes on as long as a step other than "bind" can be done."""
     need_open(open_tree)
     need_store(known)
     need_most(most)
@@ -77,26 +74,13 @@ def cells_known(open_tree, known):
 
 
 def ready_step(open_tree, known):
-    """The first early step other than "bind" that can be done outside of the bodies of givens, or None."""
+    """The first early step other than "bind" that can be done, or None."""
     cells = cells_known(open_tree, known)
-    for path in paths_outside(open_tree):
+    for path, _ in placed_parts(open_tree, False):
         for word in STEP_WORDS:
             if word != "bind" and brought_early(open_tree, cells, word, path) is not None:
                 return (word, path)
     return None
-
-
-def paths_outside(open_tree):
-    """The ascending list of the paths that lead into no body of a given."""
-    found = []
-    todo = [((), open_tree)]
-    while todo:
-        path, part = todo.pop()
-        found.append(path)
-        if part[0] not in CLOSED:
-            kids = [(path + (index,), kid) for index, kid in enumerate(parts_in(part))]
-            todo.extend(kids[::-1])
-    return found
 
 
 def behind_step(open_tree, known, step):
@@ -104,7 +88,7 @@ def behind_step(open_tree, known, step):
     if not isinstance(step, tuple) or len(step) != 2:
         return None
     word, path = step
-    if not isinstance(word, str) or word not in STEP_WORDS or not is_path(open_tree, path):
+    if not is_path(open_tree, path):
         return None
     brought = brought_early(open_tree, cells_known(open_tree, known), word, path)
     if brought is None:

@@ -73,8 +73,6 @@ def are_exchanged(deeds, other_deeds):
     """Whether two trains are exchanged."""
     need_deeds(deeds)
     need_deeds(other_deeds)
-    if len(deeds) != len(other_deeds):
-        return False
     return other_deeds in [tuple([deeds[index] for index in order]) for order in orders_of(deeds)]
 
 

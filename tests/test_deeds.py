@@ -369,6 +369,7 @@ class Point40(unittest.TestCase):
         self.assertEqual(self.behind("(test 0 x y)", "choose", ()), "y")
         self.assertEqual(self.behind("(test -1 x y)", "choose", ()), "x")
         self.assertEqual(self.steps("(test x 1 2)"), [])
+        self.assertEqual(self.steps("(test 2 x y)"), [("choose", ())])
         self.assertEqual(self.steps("(test (given a a) 1 2)"), [])
 
     def test_bind(self):
@@ -460,6 +461,8 @@ class Point40(unittest.TestCase):
                       (None, behind), ((("known", (0, 0)),), behind)):
             self.assertIs(is_early_paper(tree, known, value), False, value)
         self.assertIs(is_early_paper(tree, (), (steps, behind)), False)
+        self.assertIs(is_early_paper(("amount", 1), (), ((), ("amount", 1))), True)
+        self.assertIs(is_early_paper(("amount", 1), (), ((), ("amount", True))), False)
 
     def test_great_papers(self):
         # "bind" and "put" of such a tree lead to itself.
