@@ -41,7 +41,7 @@ class Frame:
     """A stretch that is being done: its lines, the index of the next one, the values at places, and its last place."""
 
     def __init__(self, stretch, values):
-        self.lines = stretch[0]
+        self.stretch_lines = stretch[0]
         self.at = 0
         self.held = values
         self.last = stretch[1]
@@ -53,14 +53,14 @@ def run_lines(code, most):
     done = 0
     while True:
         frame = frames[-1]
-        if frame.at == len(frame.lines):
+        if frame.at == len(frame.stretch_lines):
             value = frame.held[frame.last]
             frames.pop()
             if not frames:
                 return (shown_value(value), done)
             frames[-1].held.append(value)
         else:
-            line = frame.lines[frame.at]
+            line = frame.stretch_lines[frame.at]
             reason = stuck_reason(line, frame.held)
             if reason is not None:
                 return (("stuck", reason), done)

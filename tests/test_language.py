@@ -180,6 +180,33 @@ class Language(unittest.TestCase):
         names = [node.name for _, tree in parsed() for node in functions_in(tree)]
         self.assertEqual(names.count("lines"), 1)
 
+    def test_names_of_generators_and_of_decorated_methods_are_no_others(self):
+        """No attribute that is stored, and nothing else that is called or defined, has such a name."""
+        told, defined, stored, called = [], [], [], []
+        for _, tree in parsed():
+            for node in ast.walk(tree):
+                if isinstance(node, ast.FunctionDef):
+                    defined.append(node.name)
+                    if node.decorator_list or any(isinstance(inner, ast.Yield) for inner in ast.walk(node)):
+                        told.append(node.name)
+                if isinstance(node, ast.Attribute) and isinstance(node.ctx, ast.Store):
+                    stored.append(node.attr)
+                if isinstance(node, ast.Call) and isinstance(node.func, ast.Name):
+                    called.append(node.func.id)
+        self.assertEqual(sorted(set(told)), ["journey", "lines", "makings", "next", "read", "tree"])
+        self.assertEqual(set(told) & set(stored), set())
+        self.assertEqual(set(told) & set(called), set())
+        # Those that are told twice are properties of two classes.
+        self.assertEqual([name for name in defined if name in told and told.count(name) != defined.count(name)], [])
+        self.assertEqual(told.count("lines") + told.count("read"), 2)
+
+    def test_no_attribute_has_the_name_of_a_function_or_method(self):
+        defined = {node.name for _, tree in parsed() for node in functions_in(tree)}
+        for name, tree in parsed():
+            for node in ast.walk(tree):
+                if isinstance(node, ast.Attribute) and isinstance(node.ctx, ast.Store):
+                    self.assertNotIn(node.attr, defined, name)
+
     def test_operators_and_properties_change_nothing(self):
         homes = {}
         for name, tree in parsed():
