@@ -8,9 +8,8 @@ counted on the way: where pairs of pairs are applied to one another, so much wou
 """
 
 from namesapart.errors import InvalidNumber
-from namesapart.library import need_client, need_lot
-from namesapart.meanings import words_free_in
-from namesapart.plainuses import index_fitting, meaning_told, need_small, rows_of_lot
+from namesapart.library import need_client, need_lot, rows_of_lot
+from namesapart.plainuses import index_fitting, meaning_told, need_small
 from namesapart.running import reckoned_amount
 from namesapart.words import is_amount, is_between
 
@@ -54,10 +53,9 @@ def shown_directly(lot, client, most):
     if not is_between(most, 0, MOST_COUNTED):
         raise InvalidNumber("not an integer from 0 to the most that is counted")
     need_small(client)
-    told = meaning_told(lot, client)
+    told, free = meaning_told(lot, client)
     if told[0] != "plain":
         return told
-    free = words_free_in((told[1], ()))
     if free:
         return ("free", tuple(free))
     return end_done(lot, client, most)

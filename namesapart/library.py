@@ -1,35 +1,171 @@
 """The makers of the library, clients, and clients with makers around them."""
 
 from namesapart.errors import InvalidLot, InvalidTree, InvalidWord
-from namesapart.shapes import all_names, placed_parts
-from namesapart.texts import read_tree
-from namesapart.trees import is_tree, need_bare
+from namesapart.shapes import MOST_DEPTH, MOST_SIZE, all_names, depth_of, placed_parts, size_of
+from namesapart.trees import need_bare
 
-# The rows of each maker, as the text of a maker has them.
+# The rows of each maker, told as the tuples that they are: nearly every call here and in what comes of clients needs
+# some, and reading them from texts each time would take far longer than all else.
 LIBRARY = {
     "calc": (
-        "(row (any:a word:plus any:b) (+ ?a ?b)) (row (any:a word:by any:b) (* ?a ?b)) "
-        "(row (any:a word:plus any:b word:by any:c) (make calc ?a plus (make calc ?b by ?c))) (row (any:a) ?a)"
+        ((("any", "a"), ("word", ("plus", ())), ("any", "b")), ("reckon", "+", ("fill", "a"), ("fill", "b"))),
+        ((("any", "a"), ("word", ("by", ())), ("any", "b")), ("reckon", "*", ("fill", "a"), ("fill", "b"))),
+        (
+            (("any", "a"), ("word", ("plus", ())), ("any", "b"), ("word", ("by", ())), ("any", "c")),
+            (
+                "make", ("calc", ()),
+                (
+                    ("fill", "a"),
+                    ("use", ("plus", ())),
+                    ("make", ("calc", ()), (("fill", "b"), ("use", ("by", ())), ("fill", "c"))),
+                ),
+            ),
+        ),
+        ((("any", "a"),), ("fill", "a")),
     ),
-    "case": "(row (any:e word:is any:k any:b any:c) (test (- ?e ?k) ?c ?b))",
-    "joint": "(row (name:n any:e name:o any:h any:b) (apply (apply (given ?n (given ?o ?b)) ?e) ?h))",
-    "left": "(row (any:p) (apply ?p (given u (given v u))))",
+    "case": (
+        (
+            (("any", "e"), ("word", ("is", ())), ("any", "k"), ("any", "b"), ("any", "c")),
+            ("test", ("reckon", "-", ("fill", "e"), ("fill", "k")), ("fill", "c"), ("fill", "b")),
+        ),
+    ),
+    "joint": (
+        (
+            (("name", "n"), ("any", "e"), ("name", "o"), ("any", "h"), ("any", "b")),
+            (
+                "apply",
+                ("apply", ("given", ("fill", "n"), ("given", ("fill", "o"), ("fill", "b"))), ("fill", "e")),
+                ("fill", "h"),
+            ),
+        ),
+    ),
+    "left": (
+        (
+            (("any", "p"),),
+            ("apply", ("fill", "p"), ("given", ("u", ()), ("given", ("v", ()), ("use", ("u", ()))))),
+        ),
+    ),
     "lets": (
-        "(row (name:n any:e any:b) (hold ?n ?e ?b)) "
-        "(row (name:n any:e name:o any:h any:b) (hold ?n ?e (hold ?o ?h ?b)))"
+        ((("name", "n"), ("any", "e"), ("any", "b")), ("hold", ("fill", "n"), ("fill", "e"), ("fill", "b"))),
+        (
+            (("name", "n"), ("any", "e"), ("name", "o"), ("any", "h"), ("any", "b")),
+            ("hold", ("fill", "n"), ("fill", "e"), ("hold", ("fill", "o"), ("fill", "h"), ("fill", "b"))),
+        ),
     ),
-    "nay": "(row (any:a) (test ?a 0 1))",
-    "orelse": "(row (any:a any:b) (hold t ?a (test t t ?b)))",
-    "pair": "(row (any:a any:b) (hold u ?a (hold v ?b (given s (apply (apply s u) v)))))",
-    "right": "(row (any:p) (apply ?p (given u (given v v))))",
+    "nay": (
+        ((("any", "a"),), ("test", ("fill", "a"), ("amount", 0), ("amount", 1))),
+    ),
+    "orelse": (
+        (
+            (("any", "a"), ("any", "b")),
+            (
+                "hold", ("t", ()), ("fill", "a"),
+                ("test", ("use", ("t", ())), ("use", ("t", ())), ("fill", "b")),
+            ),
+        ),
+    ),
+    "pair": (
+        (
+            (("any", "a"), ("any", "b")),
+            (
+                "hold", ("u", ()), ("fill", "a"),
+                (
+                    "hold", ("v", ()), ("fill", "b"),
+                    (
+                        "given", ("s", ()),
+                        ("apply", ("apply", ("use", ("s", ())), ("use", ("u", ()))), ("use", ("v", ()))),
+                    ),
+                ),
+            ),
+        ),
+    ),
+    "right": (
+        (
+            (("any", "p"),),
+            ("apply", ("fill", "p"), ("given", ("u", ()), ("given", ("v", ()), ("use", ("v", ()))))),
+        ),
+    ),
     "sum": (
-        "(row (name:n any:e any:b) (hold f (given g (given ?n (test ?n "
-        "(+ ?b (apply (apply g g) (- ?n 1))) 0))) (apply (apply f f) ?e)))"
+        (
+            (("name", "n"), ("any", "e"), ("any", "b")),
+            (
+                "hold", ("f", ()),
+                (
+                    "given", ("g", ()),
+                    (
+                        "given", ("fill", "n"),
+                        (
+                            "test", ("fill", "n"),
+                            (
+                                "reckon", "+", ("fill", "b"),
+                                (
+                                    "apply",
+                                    ("apply", ("use", ("g", ())), ("use", ("g", ()))),
+                                    ("reckon", "-", ("fill", "n"), ("amount", 1)),
+                                ),
+                            ),
+                            ("amount", 0),
+                        ),
+                    ),
+                ),
+                ("apply", ("apply", ("use", ("f", ())), ("use", ("f", ()))), ("fill", "e")),
+            ),
+        ),
     ),
     "times": (
-        "(row (any:e any:h any:x) (hold k ?h (hold f (given g (given i (given y (test i "
-        "(apply (apply (apply g g) (- i 1)) (apply k y)) y)))) (apply (apply (apply f f) ?e) ?x))))"
+        (
+            (("any", "e"), ("any", "h"), ("any", "x")),
+            (
+                "hold", ("k", ()), ("fill", "h"),
+                (
+                    "hold", ("f", ()),
+                    (
+                        "given", ("g", ()),
+                        (
+                            "given", ("i", ()),
+                            (
+                                "given", ("y", ()),
+                                (
+                                    "test",
+                                    ("use", ("i", ())),
+                                    (
+                                        "apply",
+                                        (
+                                            "apply",
+                                            ("apply", ("use", ("g", ())), ("use", ("g", ()))),
+                                            ("reckon", "-", ("use", ("i", ())), ("amount", 1)),
+                                        ),
+                                        ("apply", ("use", ("k", ())), ("use", ("y", ()))),
+                                    ),
+                                    ("use", ("y", ())),
+                                ),
+                            ),
+                        ),
+                    ),
+                    (
+                        "apply",
+                        ("apply", ("apply", ("use", ("f", ())), ("use", ("f", ()))), ("fill", "e")),
+                        ("fill", "x"),
+                    ),
+                ),
+            ),
+        ),
     ),
+}
+
+# How much a maker adds to the size of the tree that it stands around.
+MAKER_SIZES = {
+    "calc": 27,
+    "case": 12,
+    "joint": 13,
+    "left": 7,
+    "lets": 17,
+    "nay": 6,
+    "orelse": 9,
+    "pair": 13,
+    "right": 7,
+    "sum": 24,
+    "times": 31,
 }
 
 
@@ -67,13 +203,12 @@ def library_words():
 def library_rows(word):
     """The rows of a maker of the library."""
     need_library_word(word)
-    return library_maker(word, ("amount", 0))[2]
+    return LIBRARY[word]
 
 
 def library_maker(word, body):
     """The maker of a word of the library with this body."""
-    _, name, rows, _ = read_tree(f"(maker {word} {LIBRARY[word]} 0)")
-    return ("maker", name, rows, body)
+    return ("maker", (word, ()), LIBRARY[word], body)
 
 
 def brought_by(word):
@@ -84,13 +219,27 @@ def brought_by(word):
     return sorted({name[0] for name in names})
 
 
+def rows_of_lot(lot):
+    """The rows of the makers of a lot, by word."""
+    return {word: LIBRARY[word] for word in lot}
+
+
+def fits_in_lot(lot, client):
+    """Whether a client with the makers of a lot around it is a tree.
+
+    Only the bounds are looked at, as nothing else can be wrong; no row is so deep that it could be beyond them.
+    """
+    size = size_of(client) + sum([MAKER_SIZES[word] for word in lot])
+    return size <= MOST_SIZE and depth_of(client) + len(lot) <= MOST_DEPTH
+
+
 def with_library(lot, client):
     """The client with the makers of a lot around it."""
     need_lot(lot)
     need_client(client)
+    if not fits_in_lot(lot, client):
+        raise InvalidTree("too great or too deep with the makers around it")
     tree = client
     for word in lot[::-1]:
         tree = library_maker(word, tree)
-    if not is_tree(tree):
-        raise InvalidTree("too great or too deep with the makers around it")
     return tree

@@ -5,18 +5,16 @@ others; the names of the client are bare.
 """
 
 from namesapart.errors import TooMany
-from namesapart.library import library_rows, need_client, need_lot
-from namesapart.meanings import MOST_MAKINGS, words_free_in
+from namesapart.library import need_client, need_lot, rows_of_lot
+from namesapart.meanings import MOST_MAKINGS
 from namesapart.plain import plain_or_wanting
 from namesapart.shapes import (
     BINDERS,
-    depth_of,
     filled_form,
     fitted_pieces,
     marked_tree,
     parts_in,
     placed_parts,
-    size_of,
     with_parts,
 )
 
@@ -25,27 +23,25 @@ MOST_CLIENT_DEPTH = 6
 MOST_CLIENT_USES = 20
 
 
-def rows_of_lot(lot):
-    """The rows of the makers of a lot, by word."""
-    return {word: library_rows(word) for word in lot}
-
-
 class Meaner:
-    """The rows of a lot, by word, what has been brought of them so far, and the first stop."""
+    """The rows of a lot, by word, what has been brought of them so far, the free words met, and the first stop."""
 
     def __init__(self, lot):
         self.rows = rows_of_lot(lot)
         self.brought = []
+        self.free = {}
         self.stop = None
 
 
 def need_small(client):
     """Raises an error if a client is beyond one of the limits."""
-    if size_of(client) > MOST_CLIENT_SIZE:
+    # No maker stands in a client, so its size is how many parts it has.
+    placed = placed_parts(client, False)
+    if len(placed) > MOST_CLIENT_SIZE:
         raise TooMany(MOST_CLIENT_SIZE)
-    if depth_of(client) > MOST_CLIENT_DEPTH:
+    if max([len(path) for path, _ in placed]) + 1 > MOST_CLIENT_DEPTH:
         raise TooMany(MOST_CLIENT_DEPTH)
-    if len([path for path, part in placed_parts(client, False) if part[0] == "make"]) > MOST_CLIENT_USES:
+    if len([path for path, part in placed if part[0] == "make"]) > MOST_CLIENT_USES:
         raise TooMany(MOST_CLIENT_USES)
 
 
@@ -54,7 +50,7 @@ def meant_plainly(lot, client):
     need_lot(lot)
     need_client(client)
     need_small(client)
-    return meaning_told(lot, client)
+    return meaning_told(lot, client)[0]
 
 
 def makings_told(lot, client):
@@ -68,21 +64,27 @@ def makings_told(lot, client):
 
 
 def meaning_told(lot, client):
-    """As meant_plainly."""
+    """The pair of what meant_plainly returns, and of the ascending list of the words free in the plain meaning."""
     meaner = Meaner(lot)
     tree = meant_part(meaner, client, ())
+    free = sorted(meaner.free)
     if meaner.stop is not None:
-        return ("stopped", meaner.stop)
-    work = (tree, ())
-    if any([word in lot for word in words_free_in(work)]):
-        return ("wanting",)
-    return ("plain", plain_or_wanting(work))
+        return (("stopped", meaner.stop), free)
+    if any([word in lot for word in free]):
+        return (("wanting",), free)
+    return (("plain", plain_or_wanting((tree, ()))), free)
 
 
 def meant_part(meaner, part, bound):
     """The plain meaning of a part around which binders of the client bind these words."""
     kind = part[0]
-    if meaner.stop is not None or kind in ("amount", "use"):
+    if meaner.stop is not None or kind == "amount":
+        return part
+    if kind == "use":
+        word, marks = part[1]
+        # Names with marks were brought by a form, which binds them all.
+        if not marks and word not in bound:
+            meaner.free[word] = True
         return part
     if kind == "make":
         return meant_use(meaner, part, bound)

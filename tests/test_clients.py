@@ -1,5 +1,6 @@
 """Points [41] to [43] and [76] to [78]: the library, and what clients mean and show."""
 
+import sys
 import unittest
 from itertools import permutations
 
@@ -74,8 +75,25 @@ class Point41(unittest.TestCase):
         self.assertEqual(library_words(), sorted(ROWS))
 
     def test_rows(self):
-        for word, text in ROWS.items():
-            self.assertEqual(library_rows(word), read_tree(f"(maker m {text} 0)")[2])
+        for word in library_words():
+            maker = read_tree(f"(maker m {ROWS[word]} 0)")
+            self.assertEqual(library_rows(word), maker[2])
+            self.assertTrue(is_tree(("maker", (word, ()), library_rows(word), ("amount", 0))))
+            # Told as a text too, so that what is alike but of another kind does not pass.
+            self.assertEqual(repr(library_rows(word)), repr(maker[2]))
+
+    def test_nothing_that_is_told_can_be_changed(self):
+        """What is told again and again is made of tuples alone, words and integers."""
+        todo = [library_rows(word) for word in WORDS] + [with_library(WORDS, ("amount", 1))]
+        while todo:
+            told = todo.pop()
+            self.assertIn(type(told), (tuple, str, int))
+            if isinstance(told, tuple):
+                todo.extend(told)
+        for tell in (lambda: brought_by("calc"), library_words, lambda: makings_told(WORDS, read_tree("(make nay 1)"))):
+            ahead = list(tell())
+            tell().append("more")
+            self.assertEqual(tell(), ahead)
 
     def test_brought(self):
         for word, words in BROUGHT.items():
@@ -127,6 +145,22 @@ class Point41(unittest.TestCase):
         self.assertEqual(tree_size(with_library(WORDS, wide(left))), 1000)
         self.assertRaises(InvalidTree, with_library, WORDS, wide(left + 1))
 
+    def test_bounds_of_each_maker(self):
+        for word in WORDS:
+            left = 1000 - tree_size(("maker", (word, ()), library_rows(word), ("amount", 1))) + 1
+            self.assertEqual(tree_size(with_library((word,), wide(left))), 1000)
+            self.assertRaises(InvalidTree, with_library, (word,), wide(left + 1))
+            self.assertEqual(tree_depth(with_library((word,), chain(59))), 60)
+            self.assertRaises(InvalidTree, with_library, (word,), chain(60))
+
+    def test_what_comes_with_lots_around_is_a_tree(self):
+        for seed in range(60):
+            lot = WORDS[seed % 12:] + WORDS[:seed % 7 * (seed % 12 > 6)]
+            self.assertTrue(is_tree(with_library(lot, grown_client(seed))))
+        for lot in permutations(("calc", "sum", "times", "pair")):
+            self.assertTrue(is_tree(with_library(lot, chain(56))))
+            self.assertRaises(InvalidTree, with_library, lot, chain(57))
+
 
 def wide(size):
     """A client of this size, not deep."""
@@ -135,6 +169,40 @@ def wide(size):
         return ones[size - 1]
     left = size - 1
     return ("test", wide(left // 3), wide((left + 1) // 3), wide((left + 2) // 3))
+
+
+def count_calls(function, *arguments):
+    """How many functions of the package are called, all in all, by a call of one."""
+    called = []
+
+    def note(frame, event, _):
+        if event == "call" and "namesapart" in frame.f_code.co_filename:
+            called.append(frame.f_code.co_name)
+
+    before = sys.getprofile()
+    sys.setprofile(note)
+    try:
+        function(*arguments)
+    finally:
+        sys.setprofile(before)
+    return len(called)
+
+
+class Shortness(unittest.TestCase):
+    """The library is always the same, so nearly nothing is done for it: calls are counted, as times differ."""
+
+    def test_lots_cost_next_to_nothing(self):
+        client = read_tree("(make nay 0)")
+        for function, more in ((shown_directly, (99,)), (meant_plainly, ()), (makings_told, ()), (with_library, ())):
+            few = count_calls(function, ("nay",), client, *more)
+            many = count_calls(function, WORDS, client, *more)
+            self.assertLess(few, 120, function)
+            # One for each word that is looked at, and one for each maker around.
+            self.assertLessEqual(many - few, 2 * len(WORDS), function)
+
+    def test_rows_are_told_at_once(self):
+        for word in WORDS:
+            self.assertLess(count_calls(library_rows, word), 5)
 
 
 class Point42(unittest.TestCase):
